@@ -16,6 +16,7 @@ const root = ".."
 // layers are the packages that are built, in their order, with the ways that each leans on.
 var layers = []struct{ name, ways string }{
 	{"sha", "variadic constant-table"},
+	{"hmac", "array variadic"},
 }
 
 var library = " bytes cmp container/heap errors iter maps math math/bits slices sort strconv strings sync sync/atomic unicode unicode/utf8 "
