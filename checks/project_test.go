@@ -17,6 +17,7 @@ const root = ".."
 var layers = []struct{ name, ways string }{
 	{"sha", "variadic constant-table"},
 	{"hmac", "array variadic"},
+	{"wire", "label closure"},
 }
 
 var library = " bytes cmp container/heap errors iter maps math math/bits slices sort strconv strings sync sync/atomic unicode unicode/utf8 "
