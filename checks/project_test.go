@@ -18,6 +18,7 @@ var layers = []struct{ name, ways string }{
 	{"sha", "variadic constant-table"},
 	{"hmac", "array variadic"},
 	{"wire", "label closure"},
+	{"merkle", "range-integer array-compared"},
 }
 
 var library = " bytes cmp container/heap errors iter maps math math/bits slices sort strconv strings sync sync/atomic unicode unicode/utf8 "
