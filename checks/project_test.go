@@ -19,6 +19,7 @@ var layers = []struct{ name, ways string }{
 	{"hmac", "array variadic"},
 	{"wire", "label closure"},
 	{"merkle", "range-integer array-compared"},
+	{"tree", "range-string rune copy"},
 }
 
 var library = " bytes cmp container/heap errors iter maps math math/bits slices sort strconv strings sync sync/atomic unicode unicode/utf8 "
