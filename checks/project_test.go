@@ -20,6 +20,7 @@ var layers = []struct{ name, ways string }{
 	{"wire", "label closure"},
 	{"merkle", "range-integer array-compared"},
 	{"tree", "range-string rune copy"},
+	{"program", "constant-table range-string"},
 }
 
 var library = " bytes cmp container/heap errors iter maps math math/bits slices sort strconv strings sync sync/atomic unicode unicode/utf8 "
