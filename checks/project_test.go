@@ -21,6 +21,7 @@ var layers = []struct{ name, ways string }{
 	{"merkle", "range-integer array-compared"},
 	{"tree", "range-string rune copy"},
 	{"program", "constant-table range-string"},
+	{"vm", "panic recover defer"},
 }
 
 var library = " bytes cmp container/heap errors iter maps math math/bits slices sort strconv strings sync sync/atomic unicode unicode/utf8 "
