@@ -22,6 +22,7 @@ var layers = []struct{ name, ways string }{
 	{"tree", "range-string rune copy"},
 	{"program", "constant-table range-string"},
 	{"vm", "panic recover defer"},
+	{"action", "copy"},
 }
 
 var library = " bytes cmp container/heap errors iter maps math math/bits slices sort strconv strings sync sync/atomic unicode unicode/utf8 "
