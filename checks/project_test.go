@@ -23,6 +23,7 @@ var layers = []struct{ name, ways string }{
 	{"program", "constant-table range-string"},
 	{"vm", "panic recover defer"},
 	{"action", "copy"},
+	{"attest", "array-compared three-index"},
 }
 
 var library = " bytes cmp container/heap errors iter maps math math/bits slices sort strconv strings sync sync/atomic unicode unicode/utf8 "
