@@ -24,6 +24,7 @@ var layers = []struct{ name, ways string }{
 	{"vm", "panic recover defer"},
 	{"action", "copy"},
 	{"attest", "array-compared three-index"},
+	{"disk", "array copy"},
 }
 
 var library = " bytes cmp container/heap errors iter maps math math/bits slices sort strconv strings sync sync/atomic unicode unicode/utf8 "
