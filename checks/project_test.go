@@ -25,6 +25,7 @@ var layers = []struct{ name, ways string }{
 	{"action", "copy"},
 	{"attest", "array-compared three-index"},
 	{"disk", "array copy"},
+	{"journal", "closure range-function"},
 }
 
 var library = " bytes cmp container/heap errors iter maps math math/bits slices sort strconv strings sync sync/atomic unicode unicode/utf8 "
