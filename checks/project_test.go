@@ -26,6 +26,7 @@ var layers = []struct{ name, ways string }{
 	{"attest", "array-compared three-index"},
 	{"disk", "array copy"},
 	{"journal", "closure range-function"},
+	{"store", "map delete iota"},
 }
 
 var library = " bytes cmp container/heap errors iter maps math math/bits slices sort strconv strings sync sync/atomic unicode unicode/utf8 "
