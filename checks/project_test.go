@@ -27,6 +27,7 @@ var layers = []struct{ name, ways string }{
 	{"disk", "array copy"},
 	{"journal", "closure range-function"},
 	{"store", "map delete iota"},
+	{"lexer", "range-string rune"},
 }
 
 var library = " bytes cmp container/heap errors iter maps math math/bits slices sort strconv strings sync sync/atomic unicode unicode/utf8 "
