@@ -28,6 +28,7 @@ var layers = []struct{ name, ways string }{
 	{"journal", "closure range-function"},
 	{"store", "map delete iota"},
 	{"lexer", "range-string rune"},
+	{"parser", "constant-table"},
 }
 
 var library = " bytes cmp container/heap errors iter maps math math/bits slices sort strconv strings sync sync/atomic unicode unicode/utf8 "
