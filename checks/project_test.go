@@ -30,6 +30,7 @@ var layers = []struct{ name, ways string }{
 	{"lexer", "range-string rune"},
 	{"parser", "constant-table"},
 	{"graph", "map label"},
+	{"plan", "label"},
 }
 
 var library = " bytes cmp container/heap errors iter maps math math/bits slices sort strconv strings sync sync/atomic unicode unicode/utf8 "
