@@ -31,6 +31,7 @@ var layers = []struct{ name, ways string }{
 	{"parser", "constant-table"},
 	{"graph", "map label"},
 	{"plan", "label"},
+	{"clean", "map"},
 }
 
 var library = " bytes cmp container/heap errors iter maps math math/bits slices sort strconv strings sync sync/atomic unicode unicode/utf8 "
