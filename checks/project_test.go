@@ -32,6 +32,7 @@ var layers = []struct{ name, ways string }{
 	{"graph", "map label"},
 	{"plan", "label"},
 	{"clean", "map"},
+	{"member", "array"},
 }
 
 var library = " bytes cmp container/heap errors iter maps math math/bits slices sort strconv strings sync sync/atomic unicode unicode/utf8 "
