@@ -33,6 +33,7 @@ var layers = []struct{ name, ways string }{
 	{"plan", "label"},
 	{"clean", "map"},
 	{"member", "array"},
+	{"probe", "map delete"},
 }
 
 var library = " bytes cmp container/heap errors iter maps math math/bits slices sort strconv strings sync sync/atomic unicode unicode/utf8 "
