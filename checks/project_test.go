@@ -34,6 +34,7 @@ var layers = []struct{ name, ways string }{
 	{"clean", "map"},
 	{"member", "array"},
 	{"probe", "map delete"},
+	{"adverts", "closure range-function label"},
 }
 
 var library = " bytes cmp container/heap errors iter maps math math/bits slices sort strconv strings sync sync/atomic unicode unicode/utf8 "
