@@ -35,6 +35,7 @@ var layers = []struct{ name, ways string }{
 	{"member", "array"},
 	{"probe", "map delete"},
 	{"adverts", "closure range-function label"},
+	{"gossip", "range-function closure"},
 }
 
 var library = " bytes cmp container/heap errors iter maps math math/bits slices sort strconv strings sync sync/atomic unicode unicode/utf8 "
