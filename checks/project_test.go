@@ -36,6 +36,7 @@ var layers = []struct{ name, ways string }{
 	{"probe", "map delete"},
 	{"adverts", "closure range-function label"},
 	{"gossip", "range-function closure"},
+	{"claims", "map delete"},
 }
 
 var library = " bytes cmp container/heap errors iter maps math math/bits slices sort strconv strings sync sync/atomic unicode unicode/utf8 "
