@@ -37,6 +37,7 @@ var layers = []struct{ name, ways string }{
 	{"adverts", "closure range-function label"},
 	{"gossip", "range-function closure"},
 	{"claims", "map delete"},
+	{"assign", "map label array"},
 }
 
 var library = " bytes cmp container/heap errors iter maps math math/bits slices sort strconv strings sync sync/atomic unicode unicode/utf8 "
