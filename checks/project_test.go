@@ -38,6 +38,7 @@ var layers = []struct{ name, ways string }{
 	{"gossip", "range-function closure"},
 	{"claims", "map delete"},
 	{"assign", "map label array"},
+	{"fetch", "map closure"},
 }
 
 var library = " bytes cmp container/heap errors iter maps math math/bits slices sort strconv strings sync sync/atomic unicode unicode/utf8 "
