@@ -39,6 +39,7 @@ var layers = []struct{ name, ways string }{
 	{"claims", "map delete"},
 	{"assign", "map label array"},
 	{"fetch", "map closure"},
+	{"frames", "method-value generic-function variadic"},
 }
 
 var library = " bytes cmp container/heap errors iter maps math math/bits slices sort strconv strings sync sync/atomic unicode unicode/utf8 "
