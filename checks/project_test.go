@@ -40,6 +40,7 @@ var layers = []struct{ name, ways string }{
 	{"assign", "map label array"},
 	{"fetch", "map closure"},
 	{"frames", "method-value generic-function variadic"},
+	{"builder", "iota"},
 }
 
 var library = " bytes cmp container/heap errors iter maps math math/bits slices sort strconv strings sync sync/atomic unicode unicode/utf8 "
