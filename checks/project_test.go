@@ -41,6 +41,7 @@ var layers = []struct{ name, ways string }{
 	{"fetch", "map closure"},
 	{"frames", "method-value generic-function variadic"},
 	{"builder", "iota"},
+	{"node", "method-expression"},
 }
 
 var library = " bytes cmp container/heap errors iter maps math math/bits slices sort strconv strings sync sync/atomic unicode unicode/utf8 "
