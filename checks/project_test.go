@@ -42,6 +42,7 @@ var layers = []struct{ name, ways string }{
 	{"frames", "method-value generic-function variadic"},
 	{"builder", "iota"},
 	{"node", "method-expression"},
+	{"swarm", "method-expression array"},
 }
 
 var library = " bytes cmp container/heap errors iter maps math math/bits slices sort strconv strings sync sync/atomic unicode unicode/utf8 "

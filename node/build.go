@@ -32,7 +32,6 @@ type task struct {
 	action api.Action
 	key    api.Digest
 	turn   *builder.Turn
-	teller int // who told the result; oneself, if nobody did
 	fetch  *fetch.Fetch
 	result api.Attest // that is fetched
 	wrong  bool       // what was fetched is no tree
@@ -134,7 +133,7 @@ func (n *Node) nextTask() (*task, api.Errno) {
 	if e != api.OK {
 		return nil, e
 	}
-	return &task{name: x.Name, action: a, key: key, turn: builder.New(n.config.Cap, n.config.Budget), teller: n.id}, api.OK
+	return &task{name: x.Name, action: a, key: key, turn: builder.New(n.config.Cap, n.config.Budget)}, api.OK
 }
 
 // facts is what is known of the action whose turn it is.
@@ -178,16 +177,17 @@ func (n *Node) beginFetch(t *task) {
 	}
 	n.sendClaims(n.book.Drop(t.key))
 	t.result = heard[0]
-	t.fetch, _ = fetch.New(t.result.Root, t.result.Length, n.peers(t), n.config.Window, n.config.Time, n.config.Budget, n.now)
+	t.fetch, _ = fetch.New(t.result.Root, t.result.Length, n.peers(t.key), n.config.Window, n.config.Time, n.config.Budget, n.now)
 }
 
-// peers is the others that live; whoever told the result is asked first, since it has the blob.
-func (n *Node) peers(t *task) []int {
+// peers is the others that live; whoever told the key's result is asked first, since it has run the action.
+func (n *Node) peers(key api.Digest) []int {
+	teller, isKnown := n.tellers[key]
 	var first, rest []int
 	for _, m := range n.members.Alive() {
-		switch m {
-		case n.id:
-		case t.teller:
+		switch {
+		case m == n.id:
+		case isKnown && m == teller:
 			first = append(first, m)
 		default:
 			rest = append(rest, m)

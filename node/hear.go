@@ -68,10 +68,22 @@ func (n *Node) hearClaim(f api.Frame) api.Errno {
 
 func (n *Node) hearResult(f api.Frame) api.Errno {
 	n.learn(f.Attest)
-	if t := n.request.task; t != nil && t.key == f.Attest.Key {
-		t.teller = f.From
+	if n.known.Has(f.Attest) {
+		n.tellers[f.Attest.Key] = f.From
+	}
+	if len(n.tellers) > api.MaxAdverts {
+		n.forgetTellers()
 	}
 	return api.OK
+}
+
+// forgetTellers forgets who told results that are known no more.
+func (n *Node) forgetTellers() {
+	for key := range n.tellers {
+		if len(n.known.Of(key)) == 0 {
+			delete(n.tellers, key)
+		}
+	}
 }
 
 // hearWant answers by the chunk that is asked for, if it is there.

@@ -738,3 +738,35 @@ func TestMemory(t *testing.T) {
 		t.Error("Out", l)
 	}
 }
+
+// P27.3: whoever told a result is asked for it first; who is dead is not asked.
+func TestPeers(t *testing.T) {
+	g := network(t, config(5))
+	n := g.nodes[1]
+	key, b := keyOf(t, one("x", strings.Repeat("q", 300)), copies, "a")
+	out, _ := tree.Bytes(b.Out)
+	a, _ := attest.Make(secret, key, merkle.Root(out), len(out))
+	dead := api.Probe{To: 1, Kind: api.ProbePing, Updates: []api.Update{{Node: 2, State: api.Dead, Inc: 7}}}
+	n.Deliver(frame(t, api.Frame{Kind: 1, From: 0, To: 1, Probe: dead}))
+	n.Deliver(frame(t, api.Frame{Kind: 4, From: 3, To: 1, Attest: a}))
+	begin(t, n, one("x", strings.Repeat("q", 300)), copies, "a")
+	n.Tick()
+	n.Out()
+	n.Tick()
+	var asked []int
+	for _, f := range told(t, n) {
+		if f.Kind == api.FrameWant {
+			asked = append(asked, f.To)
+		}
+	}
+	if !slices.Equal(asked, []int{3, 0, 4, 3, 0}) {
+		t.Error(asked)
+	}
+	for i := range 250 {
+		x, _ := attest.Make(secret, api.Digest{byte(i), 1}, api.Digest{}, 1)
+		n.Deliver(frame(t, api.Frame{Kind: 4, From: 3, To: 1, Attest: x}))
+	}
+	if len(n.tellers) > api.MaxAdverts+1 || len(n.Known()) != api.MaxAdverts {
+		t.Error(len(n.tellers), len(n.Known()))
+	}
+}
