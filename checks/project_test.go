@@ -43,6 +43,7 @@ var layers = []struct{ name, ways string }{
 	{"builder", "iota"},
 	{"node", "method-expression"},
 	{"swarm", "method-expression array"},
+	{"play", "range-integer"},
 }
 
 var library = " bytes cmp container/heap errors iter maps math math/bits slices sort strconv strings sync sync/atomic unicode unicode/utf8 "

@@ -5,6 +5,7 @@ import (
 	"strings"
 
 	"murmuration/api"
+	"murmuration/words"
 )
 
 // Text is a build file of the targets l.
@@ -31,7 +32,7 @@ func appendLine(out []byte, line []string) []byte {
 
 // wordsOf is the words of an instruction's line.
 func wordsOf(x api.Ins) []string {
-	line := []string{words[x.Op]}
+	line := []string{names[x.Op]}
 	for _, field := range fields[x.Op] {
 		line = append(line, fieldWord(x, field))
 	}
@@ -52,23 +53,7 @@ func fieldWord(x api.Ins, field rune) string {
 		word = x.C
 	}
 	if x.Op == api.InsSubst {
-		return quoted(word)
+		return words.Quoted(word)
 	}
 	return word
-}
-
-// quoted is a word in quotes, byte by byte, so that one that is no text stays what it is.
-func quoted(word string) string {
-	out := []byte{'"'}
-	for i := range len(word) {
-		switch b := word[i]; b {
-		case '\n':
-			out = append(out, '\\', 'n')
-		case '"', '\\':
-			out = append(out, '\\', b)
-		default:
-			out = append(out, b)
-		}
-	}
-	return string(append(out, '"'))
 }
