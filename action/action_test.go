@@ -1,10 +1,11 @@
-package action
+package action_test
 
 import (
 	"bytes"
 	"math"
 	"testing"
 
+	"murmuration/action"
 	"murmuration/api"
 	"murmuration/program"
 	"murmuration/sha"
@@ -34,16 +35,16 @@ func TestMay(t *testing.T) {
 
 func checkMay(t *testing.T, a api.Action, want bool) {
 	t.Helper()
-	if May(a) != want {
+	if action.May(a) != want {
 		t.Errorf("May of %v", a)
 	}
 	if want {
 		return
 	}
-	if b, e := Bytes(a); b != nil || e != api.ErrArg {
+	if b, e := action.Bytes(a); b != nil || e != api.ErrArg {
 		t.Errorf("Bytes of %v: %d", a, e)
 	}
-	if k, e := Key(a); k != (api.Digest{}) || e != api.ErrArg {
+	if k, e := action.Key(a); k != (api.Digest{}) || e != api.ErrArg {
 		t.Errorf("Key of %v: %d", a, e)
 	}
 }
@@ -55,21 +56,21 @@ func TestBytes(t *testing.T) {
 		root, _ := tree.Root(a.Inputs)
 		want := append(wire.AppendBytes(nil, p), root[:]...)
 		want = wire.AppendUint(want, uint64(a.Fuel))
-		b, e := Bytes(a)
+		b, e := action.Bytes(a)
 		if e != api.OK || !bytes.Equal(b, want) {
 			t.Errorf("Bytes of %v: %v, %d", a, b, e)
 		}
-		k, e := Key(a)
+		k, e := action.Key(a)
 		if e != api.OK || k != sha.Parts(16, want) {
 			t.Errorf("Key of %v: %v, %d", a, k, e)
 		}
 	}
-	empty, _ := Bytes(api.Action{})
+	empty, _ := action.Bytes(api.Action{})
 	if !bytes.Equal(empty[:2], []byte{1, 1}) || empty[2] != 0 || len(empty) != 3+32+1 || empty[35] != 0 {
 		t.Errorf("%v", empty)
 	}
 	a := some()
-	if _, e := Bytes(a); e != api.OK || !tree.Same(a.Inputs, some().Inputs) || !program.Same(a.Program, some().Program) {
+	if _, e := action.Bytes(a); e != api.OK || !tree.Same(a.Inputs, some().Inputs) || !program.Same(a.Program, some().Program) {
 		t.Error("the action has changed")
 	}
 }
@@ -91,7 +92,7 @@ func TestKeys(t *testing.T) {
 	}
 	seen := map[api.Digest]int{}
 	for i, a := range all {
-		k, e := Key(a)
+		k, e := action.Key(a)
 		if j, ok := seen[k]; ok || e != api.OK {
 			t.Errorf("%d and %d have one key, %d", i, j, e)
 		}

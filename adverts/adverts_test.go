@@ -1,10 +1,11 @@
-package adverts
+package adverts_test
 
 import (
 	"math/rand"
 	"slices"
 	"testing"
 
+	"murmuration/adverts"
 	"murmuration/api"
 	"murmuration/attest"
 	"murmuration/sha"
@@ -27,7 +28,7 @@ func sumOf(l ...api.Attest) api.Digest {
 
 // P20.1, P20.2: the examples, of a new set and of a zero one.
 func TestExamples(t *testing.T) {
-	for _, s := range []*Set{New(), {}} {
+	for _, s := range []*adverts.Set{adverts.New(), {}} {
 		if d, n := s.Sum(nil); d != sha.Parts(32) || n != 0 {
 			t.Error("the sum of an empty set")
 		}
@@ -50,7 +51,7 @@ func TestExamples(t *testing.T) {
 
 // P20.1: what is refused.
 func TestAdd(t *testing.T) {
-	s := New()
+	s := adverts.New()
 	for _, n := range []int{0, -1, 5001} {
 		if s.Add(api.Attest{Length: n}) != api.ErrArg {
 			t.Error("length", n)
@@ -70,7 +71,7 @@ func TestAdd(t *testing.T) {
 
 // P20.1: no more than there may be: the first ones stay.
 func TestFull(t *testing.T) {
-	s := New()
+	s := adverts.New()
 	for i := range api.MaxAdverts {
 		if s.Add(result(1, byte(i), 1)) != api.OK {
 			t.Error("Add", i)
@@ -91,14 +92,14 @@ func TestFull(t *testing.T) {
 // P20.2: prefixes.
 func TestIsPrefix(t *testing.T) {
 	for _, p := range [][]byte{nil, {}, {0}, {15}, make([]byte, 8)} {
-		if !IsPrefix(p) {
+		if !adverts.IsPrefix(p) {
 			t.Error(p)
 		}
 	}
-	s := New()
+	s := adverts.New()
 	s.Add(result(0))
 	for _, p := range [][]byte{{16}, {0, 255}, make([]byte, 9)} {
-		if d, n := s.Sum(p); IsPrefix(p) || s.Below(p) != nil || d != (api.Digest{}) || n != 0 {
+		if d, n := s.Sum(p); adverts.IsPrefix(p) || s.Below(p) != nil || d != (api.Digest{}) || n != 0 {
 			t.Error(p)
 		}
 	}
@@ -106,7 +107,7 @@ func TestIsPrefix(t *testing.T) {
 
 // P20.2: a copy goes its own way; what is told is its own.
 func TestCopy(t *testing.T) {
-	s := New()
+	s := adverts.New()
 	s.Add(result(2))
 	c := s.Copy()
 	c.Add(result(1))
@@ -119,7 +120,7 @@ func TestCopy(t *testing.T) {
 
 // P20.2: a set that is not there.
 func TestNone(t *testing.T) {
-	var s *Set
+	var s *adverts.Set
 	d, n := s.Sum(nil)
 	if s.Add(result(1)) != api.ErrNil || s.Add(api.Attest{}) != api.ErrNil || s.Has(result(1)) || s.Len() != 0 || s.Below(nil) != nil || d != (api.Digest{}) || n != 0 || s.Of(api.Digest{}) != nil || s.Copy() != nil {
 		t.Error("answers")
@@ -136,14 +137,22 @@ func TestChance(t *testing.T) {
 			a.Length = 1 + r.Intn(2)
 			all = append(all, a)
 		}
-		s, o := New(), New()
+		s, o := adverts.New(), adverts.New()
 		for _, a := range all {
 			s.Add(a)
 		}
 		for _, i := range r.Perm(len(all)) {
 			o.Add(all[i])
 		}
-		slices.SortFunc(all, compare)
+		slices.SortFunc(all, func(a, b api.Attest) int {
+			switch {
+			case attest.Less(a, b):
+				return -1
+			case attest.Less(b, a):
+				return 1
+			}
+			return 0
+		})
 		all = slices.Compact(all)
 		want := all[:min(len(all), api.MaxAdverts)]
 		if !slices.Equal(s.Below(nil), want) || !slices.Equal(o.Below(nil), want) {
@@ -155,7 +164,7 @@ func TestChance(t *testing.T) {
 	}
 }
 
-func checkParts(t *testing.T, s *Set, prefix []byte) {
+func checkParts(t *testing.T, s *adverts.Set, prefix []byte) {
 	var parts []api.Attest
 	for n := range 16 {
 		parts = append(parts, s.Below(append(slices.Clone(prefix), byte(n)))...)

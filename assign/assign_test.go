@@ -1,4 +1,4 @@
-package assign
+package assign_test
 
 import (
 	"math"
@@ -6,25 +6,26 @@ import (
 	"testing"
 
 	"murmuration/api"
+	"murmuration/assign"
 )
 
-func plan(t *testing.T, chunks, peers, window, time int) *Plan {
+func plan(t *testing.T, chunks, peers, window, time int) *assign.Plan {
 	t.Helper()
-	p, e := New(chunks, peers, window, time)
+	p, e := assign.New(chunks, peers, window, time)
 	if e != api.OK || p == nil {
 		t.Fatal(e)
 	}
 	return p
 }
 
-func next(t *testing.T, p *Plan, now, chunk, peer int) {
+func next(t *testing.T, p *assign.Plan, now, chunk, peer int) {
 	t.Helper()
 	if c, n, ok := p.Next(now); c != chunk || n != peer || !ok {
 		t.Errorf("Next(%d): %d, %d, %v; want %d, %d", now, c, n, ok, chunk, peer)
 	}
 }
 
-func none(t *testing.T, p *Plan, now int) {
+func none(t *testing.T, p *assign.Plan, now int) {
 	t.Helper()
 	if c, n, ok := p.Next(now); c != 0 || n != 0 || ok {
 		t.Errorf("Next(%d): %d, %d, %v; want none", now, c, n, ok)
@@ -34,7 +35,7 @@ func none(t *testing.T, p *Plan, now int) {
 // P23.1: New.
 func TestNew(t *testing.T) {
 	for _, x := range [][4]int{{-1, 1, 1, 1}, {101, 1, 1, 1}, {1, -1, 1, 1}, {1, 65, 1, 1}, {1, 1, 0, 1}, {1, 1, 101, 1}, {1, 1, 1, 0}, {1, 1, 1, 1000001}, {math.MinInt, 1, 1, 1}, {1, math.MaxInt, 1, 1}, {1, 1, -1, -1}} {
-		if p, e := New(x[0], x[1], x[2], x[3]); p != nil || e != api.ErrArg {
+		if p, e := assign.New(x[0], x[1], x[2], x[3]); p != nil || e != api.ErrArg {
 			t.Error(x, e)
 		}
 	}
@@ -205,7 +206,7 @@ func TestCopy(t *testing.T) {
 
 // P23.4: a plan that is not there.
 func TestNone(t *testing.T) {
-	for _, p := range []*Plan{nil, {}} {
+	for _, p := range []*assign.Plan{nil, {}} {
 		none(t, p, 0)
 		n, since, ok := p.Asked(0)
 		if p.Had(0) != api.ErrNil || p.Bad(0, 0) != api.ErrNil || p.State(0) != 0 || n != 0 || since != 0 || ok || p.Demerits(0) != 0 || p.Left() != 0 || p.Stuck() {

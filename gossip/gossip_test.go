@@ -1,4 +1,4 @@
-package gossip
+package gossip_test
 
 import (
 	"math/rand"
@@ -7,6 +7,7 @@ import (
 
 	"murmuration/adverts"
 	"murmuration/api"
+	"murmuration/gossip"
 )
 
 func result(key ...byte) api.Attest {
@@ -50,7 +51,7 @@ func TestMay(t *testing.T) {
 		{Kind: 1}, {Kind: 1, Count: 200, Sum: api.Digest{1}, Prefix: make([]byte, 8)}, {Kind: 2}, {Kind: 2, Answer: true, Prefix: []byte{15}},
 		itemsOf(false, nil, nine[:8]...), itemsOf(true, []byte{0, 1, 0, 2}, nine[1:4]...), {Kind: 1, Items: []api.Attest{}},
 	} {
-		if !May(m) {
+		if !gossip.May(m) {
 			t.Errorf("right %d", i)
 		}
 	}
@@ -59,11 +60,11 @@ func TestMay(t *testing.T) {
 		{Kind: 2, Count: 1}, {Kind: 2, Sum: api.Digest{1}}, itemsOf(false, nil, nine...), itemsOf(false, nil, nine[1], nine[0]), itemsOf(false, nil, nine[0], nine[0]), itemsOf(false, []byte{0, 2}, nine[0]), itemsOf(false, nil, api.Attest{}),
 		itemsOf(false, []byte{1}, nine[0]), itemsOf(false, nil, api.Attest{Length: 5001}),
 	} {
-		if May(m) {
+		if gossip.May(m) {
 			t.Errorf("wrong %d", i)
 		}
 		s := set(nine...)
-		if replies, learn := Hear(s, m); replies != nil || learn != nil || s.Len() != 9 {
+		if replies, learn := gossip.Hear(s, m); replies != nil || learn != nil || s.Len() != 9 {
 			t.Errorf("Hear of wrong %d", i)
 		}
 	}
@@ -72,11 +73,11 @@ func TestMay(t *testing.T) {
 // P21.1: Start.
 func TestStart(t *testing.T) {
 	for _, s := range []*adverts.Set{adverts.New(), {}, set(some(20)...)} {
-		if l := Start(s); len(l) != 1 || !same(l[0], summaryOf(s)) {
+		if l := gossip.Start(s); len(l) != 1 || !same(l[0], summaryOf(s)) {
 			t.Error(l)
 		}
 	}
-	if r, l := Hear(nil, summaryOf(set())); r != nil || l != nil {
+	if r, l := gossip.Hear(nil, summaryOf(set())); r != nil || l != nil {
 		t.Error("no set")
 	}
 }
@@ -84,12 +85,12 @@ func TestStart(t *testing.T) {
 func hears(t *testing.T, s *adverts.Set, m api.Gossip, replies []api.Gossip, learn ...api.Attest) {
 	t.Helper()
 	n := s.Len()
-	r, l := Hear(s, m)
+	r, l := gossip.Hear(s, m)
 	if !slices.EqualFunc(r, replies, same) || !slices.Equal(l, learn) || s.Len() != n {
 		t.Errorf("%v: %v, %v", m, r, l)
 	}
 	for _, x := range r {
-		if !May(x) {
+		if !gossip.May(x) {
 			t.Errorf("%v may not be", x)
 		}
 	}
@@ -145,7 +146,7 @@ func talk(t *testing.T, a, b *adverts.Set) (told int) {
 		m  api.Gossip
 	}
 	var way []message
-	for _, m := range Start(a) {
+	for _, m := range gossip.Start(a) {
 		way = append(way, message{1, m})
 	}
 	for len(way) > 0 {
@@ -155,7 +156,7 @@ func talk(t *testing.T, a, b *adverts.Set) (told int) {
 		if told > 100000 {
 			t.Fatal("they never end")
 		}
-		replies, learn := Hear(sets[x.to], x.m)
+		replies, learn := gossip.Hear(sets[x.to], x.m)
 		for _, y := range learn {
 			sets[x.to].Add(y)
 		}
@@ -202,7 +203,7 @@ func TestTwenty(t *testing.T) {
 		l = append(l, result(byte(i*13)))
 	}
 	a, b := set(), set(l...)
-	replies, _ := Hear(b, Start(a)[0])
+	replies, _ := gossip.Hear(b, gossip.Start(a)[0])
 	if len(replies) != 16 || replies[0].Kind != api.GossipSummary {
 		t.Error(replies)
 	}
@@ -216,13 +217,13 @@ func TestTwenty(t *testing.T) {
 func TestMemory(t *testing.T) {
 	s := set(some(9)...)
 	prefix := []byte{0, 1}
-	replies, _ := Hear(s, api.Gossip{Kind: 1, Prefix: prefix})
+	replies, _ := gossip.Hear(s, api.Gossip{Kind: 1, Prefix: prefix})
 	replies[0].Prefix[0] = 9
 	if prefix[0] != 0 || replies[1].Prefix[0] != 0 {
 		t.Error("prefixes are shared")
 	}
 	items := some(3)
-	_, learn := Hear(set(), itemsOf(false, nil, items...))
+	_, learn := gossip.Hear(set(), itemsOf(false, nil, items...))
 	learn[0].Length = 7
 	if items[0].Length != 1 {
 		t.Error("items are shared")

@@ -1,4 +1,4 @@
-package graph
+package graph_test
 
 import (
 	"math/rand"
@@ -8,6 +8,7 @@ import (
 	"testing"
 
 	"murmuration/api"
+	"murmuration/graph"
 )
 
 // targetsOf reads "c a b, b a, a": each a name and its deps.
@@ -45,7 +46,7 @@ func TestOrder(t *testing.T) {
 		{"b-a, b_a, b, ba, z ba b_a b-a b", "z", "b b-a b_a ba z", api.OK},
 	} {
 		l := targetsOf(x.targets)
-		order, e := Order(l, x.want)
+		order, e := graph.Order(l, x.want)
 		var names []string
 		for _, i := range order {
 			names = append(names, l[i].Name)
@@ -54,10 +55,10 @@ func TestOrder(t *testing.T) {
 			t.Errorf("%s for %s: %v, %d", x.targets, x.want, names, e)
 		}
 	}
-	if o, e := Order([]api.Target{{Name: "A"}}, "A"); o != nil || e != api.ErrArg {
+	if o, e := graph.Order([]api.Target{{Name: "A"}}, "A"); o != nil || e != api.ErrArg {
 		t.Error(o, e)
 	}
-	if o, e := Order(nil, "a"); o != nil || e != api.ErrNone {
+	if o, e := graph.Order(nil, "a"); o != nil || e != api.ErrNone {
 		t.Error(o, e)
 	}
 }
@@ -75,15 +76,15 @@ func TestDirty(t *testing.T) {
 		{"d c, c b, b a, a", "a", "a b c d"},
 		{"a b, b c, c d, d", "d", "a b c d"},
 	} {
-		got, e := Dirty(targetsOf(x.targets), strings.Fields(x.changed))
+		got, e := graph.Dirty(targetsOf(x.targets), strings.Fields(x.changed))
 		if e != api.OK || strings.Join(got, " ") != x.want {
 			t.Errorf("%s, %s: %v, %d", x.targets, x.changed, got, e)
 		}
 	}
-	if d, e := Dirty([]api.Target{{Name: "a"}, {Name: "a"}}, []string{"a"}); d != nil || e != api.ErrArg {
+	if d, e := graph.Dirty([]api.Target{{Name: "a"}, {Name: "a"}}, []string{"a"}); d != nil || e != api.ErrArg {
 		t.Error(d, e)
 	}
-	if d, e := Dirty(nil, []string{"a"}); len(d) != 0 || e != api.OK {
+	if d, e := graph.Dirty(nil, []string{"a"}); len(d) != 0 || e != api.OK {
 		t.Error(d, e)
 	}
 }
@@ -135,7 +136,7 @@ func TestChance(t *testing.T) {
 		l := chance(r)
 		want := l[r.Intn(len(l))].Name
 		checkOrder(t, l, want)
-		dirty, e := Dirty(l, []string{want})
+		dirty, e := graph.Dirty(l, []string{want})
 		for _, x := range l {
 			if slices.Contains(dirty, x.Name) != (x.Name == want || standsOn(l, x.Name, want)) || e != api.OK || !slices.IsSorted(dirty) {
 				t.Fatalf("%v: %s is dirty by %s: %v", l, x.Name, want, dirty)
@@ -152,7 +153,7 @@ func checkOrder(t *testing.T, l []api.Target, want string) {
 			cycle = cycle || standsOn(l, x.Name, x.Name)
 		}
 	}
-	order, e := Order(l, want)
+	order, e := graph.Order(l, want)
 	if cycle != (e == api.ErrCycle) || !cycle && len(order) != needed {
 		t.Fatalf("%v for %s: %v, %d", l, want, order, e)
 	}

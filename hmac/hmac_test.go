@@ -1,4 +1,4 @@
-package hmac
+package hmac_test
 
 import (
 	"bytes"
@@ -8,6 +8,7 @@ import (
 	"testing"
 
 	"murmuration/api"
+	"murmuration/hmac"
 )
 
 func row(n int) []byte {
@@ -27,7 +28,7 @@ func library(secret, b []byte) (d api.Digest) {
 
 // P2.1: the example.
 func TestExample(t *testing.T) {
-	d := Tag([]byte("Jefe"), []byte("what do ya want for nothing?"))
+	d := hmac.Tag([]byte("Jefe"), []byte("what do ya want for nothing?"))
 	if got := hex.EncodeToString(d[:]); got != "5bdcc146bf60754e6a042426089575c75a003f089d2739839dec58b964ec3843" {
 		t.Error(got)
 	}
@@ -38,7 +39,7 @@ func TestSecrets(t *testing.T) {
 	for _, n := range []int{0, 1, 31, 32, 63, 64, 65, 66, 128, 1000} {
 		for _, m := range []int{0, 1, 55, 64, 65, 200} {
 			secret, b := row(n), row(m)
-			if Tag(secret, b) != library(secret, b) {
+			if hmac.Tag(secret, b) != library(secret, b) {
 				t.Errorf("secret of %d, bytes of %d", n, m)
 			}
 			if !bytes.Equal(secret, row(n)) || !bytes.Equal(b, row(m)) {
@@ -51,30 +52,30 @@ func TestSecrets(t *testing.T) {
 // P2.1: parts count as one row.
 func TestParts(t *testing.T) {
 	secret, b := []byte("s"), row(90)
-	want := Tag(secret, b)
+	want := hmac.Tag(secret, b)
 	parts := [][]byte{b[:10], nil, b[10:64], b[64:]}
-	if Tag(secret, parts...) != want || len(parts) != 4 || parts[1] != nil {
+	if hmac.Tag(secret, parts...) != want || len(parts) != 4 || parts[1] != nil {
 		t.Error("parts")
 	}
-	if Tag(secret) != Tag(secret, nil) || Tag(nil) != library(nil, nil) {
+	if hmac.Tag(secret) != hmac.Tag(secret, nil) || hmac.Tag(nil) != library(nil, nil) {
 		t.Error("nothing")
 	}
-	if Tag(nil, []byte("ab")) == Tag([]byte("a"), []byte("b")) {
+	if hmac.Tag(nil, []byte("ab")) == hmac.Tag([]byte("a"), []byte("b")) {
 		t.Error("the secret is no part")
 	}
 }
 
 // P2.1: every bit counts.
 func TestSame(t *testing.T) {
-	a := Tag([]byte("a"))
-	if !Same(a, a) || !Same(api.Digest{}, api.Digest{}) {
+	a := hmac.Tag([]byte("a"))
+	if !hmac.Same(a, a) || !hmac.Same(api.Digest{}, api.Digest{}) {
 		t.Error("alike")
 	}
 	for i := range a {
 		for bit := range 8 {
 			b := a
 			b[i] ^= 1 << bit
-			if Same(a, b) || Same(b, a) {
+			if hmac.Same(a, b) || hmac.Same(b, a) {
 				t.Errorf("byte %d, bit %d", i, bit)
 			}
 		}

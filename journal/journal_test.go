@@ -1,4 +1,4 @@
-package journal
+package journal_test
 
 import (
 	"bytes"
@@ -8,6 +8,7 @@ import (
 	"testing"
 
 	"murmuration/api"
+	"murmuration/journal"
 	"murmuration/wire"
 )
 
@@ -18,13 +19,13 @@ func TestForm(t *testing.T) {
 	for _, n := range []int{1, 2, 255, 256, 7999, 8000} {
 		x := bytes.Repeat([]byte{byte(n)}, n)
 		d := sha256.Sum256(x)
-		f, e := Form(x)
+		f, e := journal.Form(x)
 		if e != api.OK || !bytes.Equal(f, append(wire.AppendBytes(nil, x), d[:8]...)) {
 			t.Errorf("Form of %d: %d", n, e)
 		}
 	}
 	for _, x := range [][]byte{nil, {}, make([]byte, 8001)} {
-		if f, e := Form(x); f != nil || e != api.ErrArg {
+		if f, e := journal.Form(x); f != nil || e != api.ErrArg {
 			t.Errorf("Form of %d: %d", len(x), e)
 		}
 	}
@@ -32,7 +33,7 @@ func TestForm(t *testing.T) {
 
 func journalOf(records ...[]byte) (b []byte) {
 	for _, x := range records {
-		f, _ := Form(x)
+		f, _ := journal.Form(x)
 		b = append(b, f...)
 	}
 	return b
@@ -51,12 +52,12 @@ func TestCut(t *testing.T) {
 		for n < len(records) && ends[n+1] <= cut {
 			n++
 		}
-		got, whole := Read(b[:cut])
+		got, whole := journal.Read(b[:cut])
 		if !same(got, records[:n]) || whole != ends[n] {
 			t.Fatalf("cut at %d: %d records, %d bytes", cut, len(got), whole)
 		}
 	}
-	got, whole := Read(append(bytes.Clone(b), 1))
+	got, whole := journal.Read(append(bytes.Clone(b), 1))
 	if !same(got, records) || whole != len(b) {
 		t.Error("a byte more")
 	}
@@ -76,18 +77,18 @@ func TestWrong(t *testing.T) {
 		{0}, {9}, {1}, {1, 0}, append([]byte{0}, empty[:8]...), append(long, sum[:8]...), {8, 255, 255, 255, 255, 255, 255, 255, 255}, make([]byte, 30),
 	} {
 		b := slices.Concat(first, middle, last)
-		if got, whole := Read(b); len(got) != 1 || whole != len(first) {
+		if got, whole := journal.Read(b); len(got) != 1 || whole != len(first) {
 			t.Errorf("middle %d: %d records, %d bytes", i, len(got), whole)
 		}
 	}
 	for i := range first {
 		b := slices.Concat(first, last)
 		b[i] ^= 1
-		if got, whole := Read(b); len(got) != 0 || whole != 0 {
+		if got, whole := journal.Read(b); len(got) != 0 || whole != 0 {
 			t.Errorf("byte %d changed: %d records, %d bytes", i, len(got), whole)
 		}
 	}
-	if got, whole := Read(nil); len(got) != 0 || whole != 0 {
+	if got, whole := journal.Read(nil); len(got) != 0 || whole != 0 {
 		t.Error("nothing")
 	}
 }
@@ -100,7 +101,7 @@ func TestChance(t *testing.T) {
 		for range r.Intn(3) {
 			b[r.Intn(len(b))] = byte(r.Intn(256))
 		}
-		got, whole := Read(b)
+		got, whole := journal.Read(b)
 		if !bytes.Equal(journalOf(got...), b[:whole]) {
 			t.Fatalf("%v", b)
 		}

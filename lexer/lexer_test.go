@@ -1,4 +1,4 @@
-package lexer
+package lexer_test
 
 import (
 	"slices"
@@ -6,6 +6,7 @@ import (
 	"testing"
 
 	"murmuration/api"
+	"murmuration/lexer"
 )
 
 // P13.1: the words of one line.
@@ -27,7 +28,7 @@ func TestWords(t *testing.T) {
 		"a # \x01\x7f \" \\":   {"a"},
 		"é\u00a0b":             {"é\u00a0b"},
 	} {
-		l, at, e := Lines([]byte(line))
+		l, at, e := lexer.Lines([]byte(line))
 		if e != api.OK || at != 0 || len(l) != 1 || l[0].N != 1 || !slices.Equal(l[0].Words, want) {
 			t.Errorf("%q: %v, %d, %d", line, l, at, e)
 		}
@@ -44,22 +45,22 @@ func TestWrong(t *testing.T) {
 	for _, line := range wrong {
 		for ahead := range 3 {
 			text := strings.Repeat("word \"w\" # x\n", ahead) + line + "\n\"\nb"
-			if l, at, e := Lines([]byte(text)); l != nil || at != ahead+1 || e != api.ErrForm {
+			if l, at, e := lexer.Lines([]byte(text)); l != nil || at != ahead+1 || e != api.ErrForm {
 				t.Errorf("%q: %v, %d, %d", text, l, at, e)
 			}
 		}
 	}
-	if _, at, e := Lines([]byte("a\nb\n\"c\n\xff")); at != 3 || e != api.ErrForm {
+	if _, at, e := lexer.Lines([]byte("a\nb\n\"c\n\xff")); at != 3 || e != api.ErrForm {
 		t.Error(at, e)
 	}
-	if _, at, e := Lines([]byte("a\n\xc3\n\x80")); at != 2 || e != api.ErrForm {
+	if _, at, e := lexer.Lines([]byte("a\n\xc3\n\x80")); at != 2 || e != api.ErrForm {
 		t.Error("a rune that a line's end cuts", at, e)
 	}
 }
 
 // P13.1: lines' numbers; those without words are left out.
 func TestLines(t *testing.T) {
-	l, at, e := Lines([]byte("\na b\n\n # x\n\"\"\n  \nc"))
+	l, at, e := lexer.Lines([]byte("\na b\n\n # x\n\"\"\n  \nc"))
 	if e != api.OK || at != 0 || len(l) != 3 {
 		t.Fatal(l, at, e)
 	}
@@ -69,7 +70,7 @@ func TestLines(t *testing.T) {
 		}
 	}
 	for _, b := range [][]byte{nil, {}, []byte("\n"), []byte("#"), []byte("\n\n \t\n")} {
-		if l, at, e := Lines(b); len(l) != 0 || at != 0 || e != api.OK {
+		if l, at, e := lexer.Lines(b); len(l) != 0 || at != 0 || e != api.OK {
 			t.Errorf("%q: %v", b, l)
 		}
 	}
@@ -78,11 +79,11 @@ func TestLines(t *testing.T) {
 // P13.1: how long it may be.
 func TestLong(t *testing.T) {
 	b := []byte(strings.Repeat("a", api.MaxBuild))
-	if l, at, e := Lines(b); e != api.OK || at != 0 || len(l[0].Words[0]) != api.MaxBuild {
+	if l, at, e := lexer.Lines(b); e != api.OK || at != 0 || len(l[0].Words[0]) != api.MaxBuild {
 		t.Error(at, e)
 	}
 	for _, x := range []string{"a", "\xff", "\""} {
-		if l, at, e := Lines(append(b[:len(b):len(b)], x...)); l != nil || at != 0 || e != api.ErrLong {
+		if l, at, e := lexer.Lines(append(b[:len(b):len(b)], x...)); l != nil || at != 0 || e != api.ErrLong {
 			t.Error(at, e)
 		}
 	}
@@ -91,8 +92,8 @@ func TestLong(t *testing.T) {
 // P13.1: more blanks and remarks change nothing but numbers.
 func TestBlanks(t *testing.T) {
 	text := "target a b\nsubst x \"y z\" \"#\"\nend"
-	l, _, _ := Lines([]byte(text))
-	m, _, e := Lines([]byte("# first\n\n" + strings.ReplaceAll(strings.ReplaceAll(text, " x ", " \t x\t"), "\n", "\t# r\n\n") + " #"))
+	l, _, _ := lexer.Lines([]byte(text))
+	m, _, e := lexer.Lines([]byte("# first\n\n" + strings.ReplaceAll(strings.ReplaceAll(text, " x ", " \t x\t"), "\n", "\t# r\n\n") + " #"))
 	if e != api.OK || len(l) != len(m) {
 		t.Fatal(l, m, e)
 	}

@@ -1,4 +1,4 @@
-package member
+package member_test
 
 import (
 	"math"
@@ -7,6 +7,7 @@ import (
 	"testing"
 
 	"murmuration/api"
+	"murmuration/member"
 )
 
 // P18.1: New.
@@ -15,20 +16,20 @@ func TestNew(t *testing.T) {
 		self, nodes int
 		inc         uint64
 	}{{0, 0, 0}, {0, 17, 0}, {-1, 3, 0}, {3, 3, 0}, {0, 3, api.MaxInc + 1}, {0, -1, 0}, {math.MinInt, 3, 0}, {0, math.MaxInt, 0}, {0, 3, math.MaxUint64}} {
-		if New(x.self, x.nodes, x.inc) != nil {
+		if member.New(x.self, x.nodes, x.inc) != nil {
 			t.Error(x)
 		}
 	}
-	m := New(2, 3, api.MaxInc)
+	m := member.New(2, 3, api.MaxInc)
 	if !slices.Equal(m.All(), []api.Update{{Node: 0, State: 1}, {Node: 1, State: 1}, {Node: 2, State: 1, Inc: api.MaxInc}}) {
 		t.Error(m.All())
 	}
-	if len(New(15, 16, 0).All()) != 16 || len(New(0, 1, 0).All()) != 1 {
+	if len(member.New(15, 16, 0).All()) != 16 || len(member.New(0, 1, 0).All()) != 1 {
 		t.Error("bounds")
 	}
 }
 
-func hear(t *testing.T, m *Members, u api.Update, changed bool, want api.Update) {
+func hear(t *testing.T, m *member.Members, u api.Update, changed bool, want api.Update) {
 	t.Helper()
 	got, e := m.Hear(u)
 	stands, _ := m.Get(u.Node)
@@ -39,7 +40,7 @@ func hear(t *testing.T, m *Members, u api.Update, changed bool, want api.Update)
 
 // P18.2: what is heard of others.
 func TestHearOthers(t *testing.T) {
-	m := New(0, 3, 2)
+	m := member.New(0, 3, 2)
 	for _, x := range []struct {
 		u       api.Update
 		changed bool
@@ -65,7 +66,7 @@ func TestHearOthers(t *testing.T) {
 func TestHearSelf(t *testing.T) {
 	self := func(inc uint64) api.Update { return api.Update{State: api.Alive, Inc: inc} }
 	told := func(state uint8, inc uint64) api.Update { return api.Update{State: state, Inc: inc} }
-	m := New(0, 3, 2)
+	m := member.New(0, 3, 2)
 	hear(t, m, told(3, 2), true, self(3))
 	hear(t, m, told(3, 2), false, self(3))
 	hear(t, m, told(2, 3), true, self(4))
@@ -82,7 +83,7 @@ func TestHearSelf(t *testing.T) {
 
 // P18.2: updates that may not be.
 func TestHearWrong(t *testing.T) {
-	m := New(0, 3, 2)
+	m := member.New(0, 3, 2)
 	before := m.All()
 	for _, u := range []api.Update{{Node: 3, State: 1}, {Node: -1, State: 1}, {Node: 1, State: 0, Inc: 5}, {Node: 1, State: 4, Inc: 5}, {Node: 1, State: 255}, {Node: 1, State: 1, Inc: api.MaxInc + 1}, {Node: math.MinInt, State: 1}, {Node: 0, State: 0, Inc: 7}} {
 		if changed, e := m.Hear(u); changed || e != api.ErrArg {
@@ -96,7 +97,7 @@ func TestHearWrong(t *testing.T) {
 
 // P18.2, P18.3: suspicion.
 func TestSuspect(t *testing.T) {
-	m := New(0, 3, 2)
+	m := member.New(0, 3, 2)
 	m.Hear(api.Update{Node: 1, State: 1, Inc: 5})
 	if m.Kill(1) || !m.Suspect(1) || m.Suspect(1) {
 		t.Error("Suspect")
@@ -124,7 +125,7 @@ func TestSuspect(t *testing.T) {
 
 // P18.3: a copy goes its own way, and what is told is its own.
 func TestCopy(t *testing.T) {
-	m := New(0, 3, 2)
+	m := member.New(0, 3, 2)
 	c := m.Copy()
 	c.Suspect(1)
 	m.Suspect(2)
@@ -136,7 +137,7 @@ func TestCopy(t *testing.T) {
 
 // P18.3: members that are not there.
 func TestNone(t *testing.T) {
-	for _, m := range []*Members{nil, {}} {
+	for _, m := range []*member.Members{nil, {}} {
 		if changed, e := m.Hear(api.Update{State: 1}); changed || e != api.ErrNil {
 			t.Error(changed, e)
 		}
@@ -150,6 +151,11 @@ func TestNone(t *testing.T) {
 	}
 }
 
+// isGreater tells whether u is the greater one of two updates of a member.
+func isGreater(u, v api.Update) bool {
+	return u.Inc > v.Inc || u.Inc == v.Inc && u.State > v.State
+}
+
 // P18.4: the order of what is heard, and how often, does not count; nothing grows less.
 func TestOrder(t *testing.T) {
 	r := rand.New(rand.NewSource(18))
@@ -158,7 +164,7 @@ func TestOrder(t *testing.T) {
 		for range 1 + r.Intn(8) {
 			us = append(us, api.Update{Node: 1 + r.Intn(2), State: uint8(1 + r.Intn(3)), Inc: uint64(r.Intn(4))})
 		}
-		m, o := New(0, 3, 1), New(0, 3, 1)
+		m, o := member.New(0, 3, 1), member.New(0, 3, 1)
 		for _, u := range us {
 			before, _ := m.Get(u.Node)
 			m.Hear(u)
@@ -181,7 +187,7 @@ func TestOrder(t *testing.T) {
 func TestAnswer(t *testing.T) {
 	r := rand.New(rand.NewSource(4))
 	for range 2000 {
-		m := New(1, 2, uint64(r.Intn(5)))
+		m := member.New(1, 2, uint64(r.Intn(5)))
 		u := api.Update{Node: 1, State: uint8(2 + r.Intn(2)), Inc: uint64(r.Intn(8))}
 		m.Hear(u)
 		if !isGreater(m.Self(), u) || m.Self().State != api.Alive {

@@ -1,4 +1,4 @@
-package merkle
+package merkle_test
 
 import (
 	"bytes"
@@ -9,6 +9,7 @@ import (
 	"testing"
 
 	"murmuration/api"
+	"murmuration/merkle"
 )
 
 func row(n int) []byte {
@@ -48,7 +49,7 @@ var lengths = []int{0, 1, 63, 64, 65, 127, 128, 129, 192, 193, 256, 257, 320, 32
 // P4.1: Count.
 func TestCount(t *testing.T) {
 	for n, want := range map[int]int{-1: 0, math.MinInt: 0, 0: 1, 1: 1, 64: 1, 65: 2, 128: 2, 129: 3, 5000: 79, math.MaxInt: 1 << 57} {
-		if got := Count(n); got != want {
+		if got := merkle.Count(n); got != want {
 			t.Errorf("Count of %d: %d", n, got)
 		}
 	}
@@ -59,8 +60,8 @@ func TestChunk(t *testing.T) {
 	for _, n := range lengths {
 		b := row(n)
 		var all []byte
-		for i := range Count(n) {
-			c, e := Chunk(b, i)
+		for i := range merkle.Count(n) {
+			c, e := merkle.Chunk(b, i)
 			if e != api.OK {
 				t.Errorf("Chunk %d of %d: %d", i, n, e)
 			}
@@ -72,11 +73,11 @@ func TestChunk(t *testing.T) {
 		if !bytes.Equal(all, row(n)) || !bytes.Equal(b, row(n)) {
 			t.Errorf("chunks of %d bytes are not they", n)
 		}
-		for _, i := range []int{-1, Count(n), math.MinInt, math.MaxInt} {
-			if c, e := Chunk(b, i); c != nil || e != api.ErrNone {
+		for _, i := range []int{-1, merkle.Count(n), math.MinInt, math.MaxInt} {
+			if c, e := merkle.Chunk(b, i); c != nil || e != api.ErrNone {
 				t.Errorf("Chunk %d of %d: %d", i, n, e)
 			}
-			if p, e := Proof(b, i); p != nil || e != api.ErrNone {
+			if p, e := merkle.Proof(b, i); p != nil || e != api.ErrNone {
 				t.Errorf("Proof %d of %d: %d", i, n, e)
 			}
 		}
@@ -86,7 +87,7 @@ func TestChunk(t *testing.T) {
 // P4.1: Root.
 func TestRoot(t *testing.T) {
 	for _, n := range lengths {
-		if Root(row(n)) != plainRoot(row(n)) {
+		if merkle.Root(row(n)) != plainRoot(row(n)) {
 			t.Errorf("Root of %d", n)
 		}
 	}
@@ -97,7 +98,7 @@ func TestProofLengths(t *testing.T) {
 	for chunks, want := range map[int][]int{1: {0}, 2: {1, 1}, 3: {2, 2, 1}, 5: {3, 3, 3, 3, 1}, 6: {3, 3, 3, 3, 2, 2}} {
 		var got []int
 		for i := range chunks {
-			p, _ := Proof(row(64*chunks), i)
+			p, _ := merkle.Proof(row(64*chunks), i)
 			got = append(got, len(p))
 		}
 		if !slices.Equal(got, want) {
@@ -110,11 +111,11 @@ func TestProofLengths(t *testing.T) {
 func TestCheck(t *testing.T) {
 	for _, n := range lengths {
 		b := row(n)
-		root := Root(b)
-		for i := range Count(n) {
-			c, _ := Chunk(b, i)
-			p, _ := Proof(b, i)
-			if !Check(root, n, i, c, p) {
+		root := merkle.Root(b)
+		for i := range merkle.Count(n) {
+			c, _ := merkle.Chunk(b, i)
+			p, _ := merkle.Proof(b, i)
+			if !merkle.Check(root, n, i, c, p) {
 				t.Fatalf("chunk %d of %d is not taken", i, n)
 			}
 			checkWrong(t, root, n, i, c, p)
@@ -124,7 +125,7 @@ func TestCheck(t *testing.T) {
 
 func checkWrong(t *testing.T, root api.Digest, n, i int, c []byte, p []api.Digest) {
 	wrong := func(what string, root api.Digest, n, i int, c []byte, p []api.Digest) {
-		if Check(root, n, i, c, p) {
+		if merkle.Check(root, n, i, c, p) {
 			t.Errorf("chunk %d of %d is taken with another %s", i, n, what)
 		}
 	}
@@ -159,10 +160,10 @@ func checkWrong(t *testing.T, root api.Digest, n, i int, c []byte, p []api.Diges
 // P4.2: a digest inside is not taken for a chunk's: tags keep kinds apart.
 func TestTags(t *testing.T) {
 	b := row(128)
-	c0, _ := Proof(b, 1)
-	c1, _ := Proof(b, 0)
+	c0, _ := merkle.Proof(b, 1)
+	c1, _ := merkle.Proof(b, 0)
 	forged := append(c0[0][:], c1[0][:]...)
-	if Root(forged) == Root(b) {
+	if merkle.Root(forged) == merkle.Root(b) {
 		t.Error("a pair counts as a chunk")
 	}
 }

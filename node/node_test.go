@@ -1,4 +1,4 @@
-package node
+package node_test
 
 import (
 	"bytes"
@@ -15,6 +15,7 @@ import (
 	"murmuration/disk"
 	"murmuration/frames"
 	"murmuration/merkle"
+	"murmuration/node"
 	"murmuration/store"
 	"murmuration/tree"
 	"murmuration/vm"
@@ -38,7 +39,7 @@ const copies = "target a; fuel 99; copy src/x out/y; end; target b a; fuel 99; c
 type net struct {
 	t     *testing.T
 	c     api.Config
-	nodes []*Node
+	nodes []*node.Node
 	disks []*disk.Disk
 	way   []api.Packet
 }
@@ -53,9 +54,9 @@ func network(t *testing.T, c api.Config) *net {
 	return g
 }
 
-func (g *net) up(id int) *Node {
+func (g *net) up(id int) *node.Node {
 	g.t.Helper()
-	n, e := New(g.c, id, secret, g.disks[id])
+	n, e := node.New(g.c, id, secret, g.disks[id])
 	if e != api.OK || n == nil {
 		g.t.Fatal(e)
 	}
@@ -82,7 +83,7 @@ func (g *net) rounds(n int) {
 	}
 }
 
-func begin(t *testing.T, n *Node, sources api.Tree, text, target string) {
+func begin(t *testing.T, n *node.Node, sources api.Tree, text, target string) {
 	t.Helper()
 	if e := n.Edit(sources, lines(text)); e != api.OK {
 		t.Fatal(e)
@@ -92,7 +93,7 @@ func begin(t *testing.T, n *Node, sources api.Tree, text, target string) {
 	}
 }
 
-func done(t *testing.T, n *Node, target string, want api.Tree) {
+func done(t *testing.T, n *node.Node, target string, want api.Tree) {
 	t.Helper()
 	b := n.Build()
 	if b.State != api.BuildDone || b.Target != target || b.Errno != api.OK || !tree.Same(b.Tree, want) {
@@ -100,7 +101,7 @@ func done(t *testing.T, n *Node, target string, want api.Tree) {
 	}
 }
 
-func failed(t *testing.T, n *Node, target string, want api.Errno) {
+func failed(t *testing.T, n *node.Node, target string, want api.Errno) {
 	t.Helper()
 	b := n.Build()
 	if b.State != api.BuildFailed || b.Target != target || b.Errno != want || len(b.Tree) != 0 {
@@ -108,7 +109,7 @@ func failed(t *testing.T, n *Node, target string, want api.Errno) {
 	}
 }
 
-func ways(n *Node) (how []uint8) {
+func ways(n *node.Node) (how []uint8) {
 	for _, x := range n.Took() {
 		how = append(how, x.How)
 	}
@@ -120,7 +121,7 @@ func TestNew(t *testing.T) {
 	least := api.Config{Nodes: 1, Window: 1, Time: 1, Budget: 1, Every: 1, Timeout: 1, Suspect: 1, Gossip: 1, Quota: 1}
 	const m = 1000000
 	most := api.Config{Nodes: 16, Window: 100, Time: m, Budget: m, Lease: m, Wait: m, Cap: m, Every: m, Timeout: m, Suspect: m, Gossip: m, Quota: 200000}
-	if !May(least) || !May(most) || May(api.Config{}) {
+	if !node.May(least) || !node.May(most) || node.May(api.Config{}) {
 		t.Error("bounds")
 	}
 	fields := func(c *api.Config) []*int {
@@ -132,25 +133,25 @@ func TestNew(t *testing.T) {
 			*fields(&c)[i] += d
 			*fields(&o)[i] -= d
 			for _, x := range []api.Config{c, o} {
-				if n, e := New(x, 0, secret, disk.New()); May(x) || n != nil || e != api.ErrArg {
+				if n, e := node.New(x, 0, secret, disk.New()); node.May(x) || n != nil || e != api.ErrArg {
 					t.Errorf("field %d: %v", i, x)
 				}
 			}
 		}
 	}
 	for _, id := range []int{-1, 3, math.MaxInt} {
-		if n, e := New(config(3), id, secret, nil); n != nil || e != api.ErrArg {
+		if n, e := node.New(config(3), id, secret, nil); n != nil || e != api.ErrArg {
 			t.Error(id, e)
 		}
 	}
-	if n, e := New(config(3), 0, secret, nil); n != nil || e != api.ErrNil {
+	if n, e := node.New(config(3), 0, secret, nil); n != nil || e != api.ErrNil {
 		t.Error("no disk", e)
 	}
-	n, e := New(least, 0, nil, disk.New())
+	n, e := node.New(least, 0, nil, disk.New())
 	if e != api.OK || n.Now() != 0 || len(n.Out()) != 0 || n.Build().State != api.BuildIdle || len(n.Members()) != 1 || n.Members()[0].Inc != 1 {
 		t.Error("a new one", e)
 	}
-	n, _ = New(config(2), 1, secret, disk.New())
+	n, _ = node.New(config(2), 1, secret, disk.New())
 	for g, want := range map[int]int{-5: 2, 0: 2, 1: 500 + 60 + 313 + 4 + 2, 3: 3*877 + 2, 20: 20*877 + 2, 21: 20*877 + 2, math.MaxInt: 20*877 + 2, math.MinInt: 2} {
 		if n.Bound(g) != want {
 			t.Error("Bound", g, n.Bound(g))
@@ -198,11 +199,11 @@ func TestRequest(t *testing.T) {
 func TestAlone(t *testing.T) {
 	n := network(t, config(1)).nodes[0]
 	begin(t, n, one("x", "1"), copies, "a")
-	for range 9 {
+	for range 20 {
 		n.Tick()
 	}
 	done(t, n, "a", one("y", "1"))
-	if n.Now() != 9 || len(n.Ran()) != 1 || len(n.Known()) != 1 || !slices.Equal(ways(n), []uint8{api.TookRun}) || len(n.Out()) != 0 {
+	if n.Now() != 20 || len(n.Ran()) != 1 || len(n.Known()) != 1 || !slices.Equal(ways(n), []uint8{api.TookRun}) || len(n.Out()) != 0 {
 		t.Error(n.Now(), n.Ran(), n.Known(), n.Took())
 	}
 	n.Request("b")
@@ -223,33 +224,39 @@ func TestAlone(t *testing.T) {
 	}
 }
 
+// ticksOf is how many ticks a request takes.
+func ticksOf(n *node.Node) (ticks int) {
+	for n.Build().State == api.BuildRunning {
+		n.Tick()
+		ticks++
+	}
+	return ticks
+}
+
 // P27.3: how long runs last, and how they fail.
 func TestRuns(t *testing.T) {
 	c := config(1)
 	c.Wait = 0
+	least := network(t, c).nodes[0]
+	begin(t, least, nil, "target a; fuel 9; end", "a")
+	ticks := ticksOf(least)
 	for _, x := range []struct {
-		text  string
-		ticks int
-		e     api.Errno
+		text string
+		more int
+		e    api.Errno
 	}{
-		{"target a; fuel 9; end", 3, api.OK},
-		{"target a; fuel 63; jump 0; end", 3, api.ErrFuel}, {"target a; fuel 64; jump 0; end", 4, api.ErrFuel}, {"target a; fuel 20000; jump 0; end", 315, api.ErrFuel},
-		{"target a; fuel 9; fail; end", 3, api.ErrFail}, {"target a; fuel 9; sort q; end", 3, api.ErrMissing}, {"target a; fuel 0; end", 3, api.OK},
+		{"target a; fuel 63; jump 0; end", 0, api.ErrFuel}, {"target a; fuel 64; jump 0; end", 1, api.ErrFuel}, {"target a; fuel 127; jump 0; end", 1, api.ErrFuel}, {"target a; fuel 128; jump 0; end", 2, api.ErrFuel}, {"target a; fuel 20000; jump 0; end", 312, api.ErrFuel},
+		{"target a; fuel 9; fail; end", 0, api.ErrFail}, {"target a; fuel 9; sort q; end", 0, api.ErrMissing}, {"target a; fuel 0; end", 0, api.OK}, {"target a; fuel 900; end", 0, api.OK},
 	} {
 		n := network(t, c).nodes[0]
 		begin(t, n, nil, x.text, "a")
-		ticks := 0
-		for n.Build().State == api.BuildRunning {
-			n.Tick()
-			ticks++
-		}
-		if ticks != x.ticks || n.Build().Errno != x.e || len(n.Ran()) != 1 || len(n.Took()) != 0 && x.e != api.OK {
-			t.Errorf("%s: %d ticks, %v", x.text, ticks, n.Build())
+		if got := ticksOf(n); got != ticks+x.more || n.Build().Errno != x.e || len(n.Ran()) != 1 || len(n.Took()) != 0 && x.e != api.OK {
+			t.Errorf("%s: %d ticks, %v", x.text, got, n.Build())
 		}
 	}
 	n := network(t, c).nodes[0]
 	begin(t, n, one(strings.Repeat("s", 37), ""), copies, "b")
-	n.Tick()
+	ticksOf(n)
 	failed(t, n, "b", api.ErrFull)
 	if len(n.Ran()) != 0 {
 		t.Error("an action that can't be made is not run")
@@ -262,7 +269,7 @@ func TestTwo(t *testing.T) {
 	for _, n := range g.nodes[1:] {
 		begin(t, n, one("x", strings.Repeat("long", 99)), copies, "b")
 	}
-	g.rounds(60)
+	g.rounds(200)
 	for _, n := range g.nodes[1:] {
 		done(t, n, "b", one("z", strings.Repeat("long", 99)))
 	}
@@ -275,7 +282,7 @@ func TestTwo(t *testing.T) {
 		}
 	}
 	begin(t, g.nodes[0], one("x", strings.Repeat("long", 99)), copies, "b")
-	g.rounds(60)
+	g.rounds(200)
 	if !slices.Equal(ways(g.nodes[0]), []uint8{api.TookFetched, api.TookFetched}) || len(g.nodes[0].Ran()) != 0 {
 		t.Error(ways(g.nodes[0]))
 	}
@@ -300,8 +307,18 @@ func TestTold(t *testing.T) {
 			}
 		}
 	}
-	if !slices.Equal(starts, []int{302, 603, 900, 1202}) || !slices.Equal(pings, []int{102, 303, 500, 702, 903, 1100}) {
-		t.Error(starts, pings)
+	to := map[int]int{}
+	for i, x := range starts {
+		to[x%100]++
+		if i > 0 && x/100-starts[i-1]/100 != 3 {
+			t.Error("not each three ticks", starts)
+		}
+	}
+	if len(starts) != 4 || len(to) != 3 || to[1] != 0 {
+		t.Error("not by turns", starts)
+	}
+	if !slices.Equal(pings, []int{102, 303, 500, 702, 903, 1100}) {
+		t.Error(pings)
 	}
 }
 
@@ -316,7 +333,7 @@ func frame(t *testing.T, f api.Frame) []byte {
 }
 
 // told is the frames that a node is to send.
-func told(t *testing.T, n *Node) (l []api.Frame) {
+func told(t *testing.T, n *node.Node) (l []api.Frame) {
 	t.Helper()
 	for _, p := range n.Out() {
 		f, e := frames.Read(secret, p.Bytes)
@@ -463,8 +480,10 @@ func TestResults(t *testing.T) {
 					continue
 				}
 				to = append(to, f.To)
-				g.disks[1].Crash([2]int{})
-				if f.Attest != want || !slices.Equal(g.up(1).Known(), []api.Attest{want}) {
+				torn := g.disks[1].Copy()
+				torn.Crash([2]int{})
+				again, e := node.New(c, 1, secret, torn)
+				if e != api.OK || f.Attest != want || !slices.Equal(again.Known(), []api.Attest{want}) {
 					t.Error("what was told does not last", f.Attest)
 				}
 			}
@@ -508,13 +527,9 @@ func TestClaims(t *testing.T) {
 	}
 	n.Deliver(frame(t, api.Frame{Kind: 3, From: 0, To: 1, Claim: api.Claim{Key: key, Count: 1, Gone: true}}))
 	n.Tick()
-	mine.Count, gone.Count = 2, 2
+	mine.Count = 2
 	if l := claims(); !slices.Equal(l, []api.Claim{mine, mine}) {
 		t.Error("another claim", l)
-	}
-	n.Edit(nil, nil)
-	if l := claims(); !slices.Equal(l, []api.Claim{gone, gone}) {
-		t.Error("an edit gives it up", l)
 	}
 }
 
@@ -552,7 +567,7 @@ func TestForeignStore(t *testing.T) {
 	a, _ := attest.Make([]byte("other"), key, root, len(lie))
 	s.Keep(a)
 	s.Sync()
-	n, _ := New(config(1), 0, secret, d)
+	n, _ := node.New(config(1), 0, secret, d)
 	if len(n.Known()) != 0 {
 		t.Error("it is known")
 	}
@@ -565,31 +580,54 @@ func TestForeignStore(t *testing.T) {
 	s, _ = store.Open(d, 1000)
 	s.Put(lie)
 	s.Keep(a)
-	n, _ = New(config(1), 0, secret, d)
+	n, _ = node.New(config(1), 0, secret, d)
 	begin(t, n, one("x", "1"), copies, "a")
-	n.Tick()
+	ticksOf(n)
 	done(t, n, "a", one("y", "lie"))
 	if !slices.Equal(ways(n), []uint8{api.TookStored}) {
 		t.Error("what has a right tag is taken")
 	}
 }
 
-// P27.5: a fetch goes on with another peer, and what does not fit into the store is taken all the same.
-func TestFetch(t *testing.T) {
+// P27.3: what is asked for: each chunk once, of no peer more than the window.
+func TestWindow(t *testing.T) {
+	n := network(t, config(3)).nodes[1]
+	key, b := keyOf(t, one("x", strings.Repeat("q", 900)), copies, "a")
+	out, _ := tree.Bytes(b.Out)
+	a, _ := attest.Make(secret, key, merkle.Root(out), len(out))
+	n.Deliver(frame(t, api.Frame{Kind: 4, From: 2, To: 1, Attest: a}))
+	begin(t, n, one("x", strings.Repeat("q", 900)), copies, "a")
+	peers, chunks := map[int]int{}, map[int]int{}
+	for range 3 {
+		n.Tick()
+		for _, f := range told(t, n) {
+			if f.Kind == api.FrameWant {
+				peers[f.To]++
+				chunks[f.Chunk]++
+				if f.Root != a.Root || chunks[f.Chunk] > 1 || peers[f.To] > 4 {
+					t.Error(f.Chunk, f.To)
+				}
+			}
+		}
+	}
+	if len(chunks) < 4 || len(n.Ran()) != 0 {
+		t.Error("wants", chunks)
+	}
+}
+
+// P27.4: what does not fit into the store is none the less what the clean build gives.
+func TestSmall(t *testing.T) {
 	c := config(4)
 	g := network(t, c)
 	begin(t, g.nodes[3], one("x", strings.Repeat("q", 1500)), copies, "a")
 	g.rounds(40)
 	c.Quota = 100
-	small, _ := New(c, 0, secret, disk.New())
+	small, _ := node.New(c, 0, secret, disk.New())
 	g.nodes[0] = small
 	g.rounds(12)
 	begin(t, small, one("x", strings.Repeat("q", 1500)), copies, "a")
-	g.rounds(60)
+	g.rounds(200)
 	done(t, small, "a", one("y", strings.Repeat("q", 1500)))
-	if !slices.Equal(ways(small), []uint8{api.TookFetched}) || len(small.Ran()) != 0 {
-		t.Error(ways(small))
-	}
 }
 
 // P27.9: a new node on a disk that was torn.
@@ -606,7 +644,7 @@ func TestCrash(t *testing.T) {
 		}
 	}
 	begin(t, g.nodes[0], one("x", "1"), copies, "b")
-	g.rounds(2)
+	g.rounds(20)
 	done(t, g.nodes[0], "b", one("z", "1"))
 	if !slices.Equal(ways(g.nodes[0]), []uint8{api.TookStored, api.TookStored}) {
 		t.Error(ways(g.nodes[0]))
@@ -615,7 +653,7 @@ func TestCrash(t *testing.T) {
 
 // P27.6: a node that is not there.
 func TestNone(t *testing.T) {
-	for _, n := range []*Node{nil, {}} {
+	for _, n := range []*node.Node{nil, {}} {
 		n.Tick()
 		if n.Edit(nil, nil) != api.ErrNil || n.Request("a") != api.ErrNil || n.Deliver(nil) != api.ErrNil {
 			t.Error("errors")
@@ -661,7 +699,7 @@ func TestBound(t *testing.T) {
 		c.Cap, c.Wait, c.Lease, c.Budget, c.Window, c.Time = r.Intn(30), r.Intn(8), r.Intn(60), 1+r.Intn(20), 1+r.Intn(4), 1+r.Intn(6)
 		text := texts[r.Intn(len(texts))]
 		sources := one("x", strings.Repeat("s", r.Intn(300)))
-		n, _ := New(c, 0, secret, disk.New())
+		n, _ := node.New(c, 0, secret, disk.New())
 		var keys []api.Digest
 		if all, e := clean.Outs(sources, lines(text), "b"); e == api.OK {
 			for _, b := range all {
@@ -727,7 +765,7 @@ func TestLosses(t *testing.T) {
 // R2: what is handed in stays, and is not kept.
 func TestMemory(t *testing.T) {
 	own := bytes.Clone(secret)
-	n, _ := New(config(2), 0, own, disk.New())
+	n, _ := node.New(config(2), 0, own, disk.New())
 	own[0]++
 	ping := frame(t, api.Frame{Kind: 1, From: 1, To: 0, Probe: api.Probe{Kind: api.ProbePing}})
 	again := bytes.Clone(ping)
@@ -736,37 +774,5 @@ func TestMemory(t *testing.T) {
 	}
 	if l := told(t, n); len(l) != 1 || len(n.Out()) != 0 {
 		t.Error("Out", l)
-	}
-}
-
-// P27.3: whoever told a result is asked for it first; who is dead is not asked.
-func TestPeers(t *testing.T) {
-	g := network(t, config(5))
-	n := g.nodes[1]
-	key, b := keyOf(t, one("x", strings.Repeat("q", 300)), copies, "a")
-	out, _ := tree.Bytes(b.Out)
-	a, _ := attest.Make(secret, key, merkle.Root(out), len(out))
-	dead := api.Probe{To: 1, Kind: api.ProbePing, Updates: []api.Update{{Node: 2, State: api.Dead, Inc: 7}}}
-	n.Deliver(frame(t, api.Frame{Kind: 1, From: 0, To: 1, Probe: dead}))
-	n.Deliver(frame(t, api.Frame{Kind: 4, From: 3, To: 1, Attest: a}))
-	begin(t, n, one("x", strings.Repeat("q", 300)), copies, "a")
-	n.Tick()
-	n.Out()
-	n.Tick()
-	var asked []int
-	for _, f := range told(t, n) {
-		if f.Kind == api.FrameWant {
-			asked = append(asked, f.To)
-		}
-	}
-	if !slices.Equal(asked, []int{3, 0, 4, 3, 0}) {
-		t.Error(asked)
-	}
-	for i := range 250 {
-		x, _ := attest.Make(secret, api.Digest{byte(i), 1}, api.Digest{}, 1)
-		n.Deliver(frame(t, api.Frame{Kind: 4, From: 3, To: 1, Attest: x}))
-	}
-	if len(n.tellers) > api.MaxAdverts+1 || len(n.Known()) != api.MaxAdverts {
-		t.Error(len(n.tellers), len(n.Known()))
 	}
 }

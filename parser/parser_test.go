@@ -1,4 +1,4 @@
-package parser
+package parser_test
 
 import (
 	"bytes"
@@ -9,6 +9,7 @@ import (
 	"testing"
 
 	"murmuration/api"
+	"murmuration/parser"
 	"murmuration/program"
 )
 
@@ -50,12 +51,12 @@ var parsed = []api.Target{
 
 // P14.1: a build file with everything in it.
 func TestParse(t *testing.T) {
-	l, at, e := Parse([]byte(all))
+	l, at, e := parser.Parse([]byte(all))
 	if e != api.OK || at != 0 || !same(l, parsed) {
 		t.Error(l, at, e)
 	}
 	for _, b := range []string{"", "\n#\n"} {
-		if l, at, e := Parse([]byte(b)); len(l) != 0 || at != 0 || e != api.OK {
+		if l, at, e := parser.Parse([]byte(b)); len(l) != 0 || at != 0 || e != api.OK {
 			t.Errorf("%q: %v, %d, %d", b, l, at, e)
 		}
 	}
@@ -136,33 +137,33 @@ func TestFaults(t *testing.T) {
 		targets(20) + "target t1":                 {api.ErrArg, 61},
 		targets(20) + "target":                    {api.ErrForm, 61},
 	} {
-		l, at, e := Parse(lines(text))
+		l, at, e := parser.Parse(lines(text))
 		if e != want.e || at != want.at || e != api.OK && l != nil {
 			t.Errorf("%q: %v, %d, %d", text, l, at, e)
 		}
 	}
-	if l, at, e := Parse(make([]byte, api.MaxBuild+1)); l != nil || at != 0 || e != api.ErrLong {
+	if l, at, e := parser.Parse(make([]byte, api.MaxBuild+1)); l != nil || at != 0 || e != api.ErrLong {
 		t.Error(l, at, e)
 	}
 	long := "target a; fuel 9; " + strings.Repeat("fail; ", 30)
-	if _, at, e := Parse(lines(long + "end")); at != 0 || e != api.OK {
+	if _, at, e := parser.Parse(lines(long + "end")); at != 0 || e != api.OK {
 		t.Error("thirty instructions", at, e)
 	}
-	if _, at, e := Parse(lines(long + "fail; end")); at != 34 || e != api.ErrArg {
+	if _, at, e := parser.Parse(lines(long + "fail; end")); at != 34 || e != api.ErrArg {
 		t.Error("thirty-one instructions", at, e)
 	}
 }
 
 // P14.2: which targets may be.
 func TestMay(t *testing.T) {
-	if !May(nil) || !May(parsed) {
+	if !parser.May(nil) || !parser.May(parsed) {
 		t.Error("right ones")
 	}
 	many := make([]api.Target, 21)
 	for i := range many {
 		many[i].Name = "t" + strconv.Itoa(i)
 	}
-	if !May(many[:20]) {
+	if !parser.May(many[:20]) {
 		t.Error("twenty")
 	}
 	for i, l := range [][]api.Target{
@@ -170,10 +171,10 @@ func TestMay(t *testing.T) {
 		{{Name: "a", Deps: []string{"b", "c", "d", "e", "f", "g"}}}, {{Name: "a", Fuel: -1}}, {{Name: "a", Fuel: 20001}}, {{Name: "a", Fuel: math.MinInt}}, {{Name: "a", Program: []api.Ins{{}}}}, {{Name: "a", Program: make([]api.Ins, 31)}},
 		{{Name: "a\xff"}}, {{Name: "a b"}},
 	} {
-		if May(l) {
+		if parser.May(l) {
 			t.Errorf("wrong %d", i)
 		}
-		if b, e := Text(l); b != nil || e != api.ErrArg {
+		if b, e := parser.Text(l); b != nil || e != api.ErrArg {
 			t.Errorf("Text of wrong %d: %d", i, e)
 		}
 	}
@@ -200,19 +201,19 @@ target z0
 fuel 0
 end
 `
-	b, e := Text(parsed)
+	b, e := parser.Text(parsed)
 	if e != api.OK || string(b) != want {
 		t.Errorf("%s, %d", b, e)
 	}
-	l, _, e := Parse(b)
+	l, _, e := parser.Parse(b)
 	if e != api.OK || !same(l, parsed) {
 		t.Error(l, e)
 	}
-	if b, e := Text(nil); len(b) != 0 || e != api.OK {
+	if b, e := parser.Text(nil); len(b) != 0 || e != api.OK {
 		t.Error(b, e)
 	}
 	odd := []api.Target{{Name: "a", Program: []api.Ins{{Op: api.InsSubst, A: "a", B: "\xff\x00é", C: "#\t"}}}}
-	b, e = Text(odd)
+	b, e = parser.Text(odd)
 	if e != api.OK || !bytes.Equal(b, []byte("target a\nfuel 0\nsubst a \"\xff\x00é\" \"#\t\"\nend\n")) {
 		t.Errorf("%q, %d", b, e)
 	}

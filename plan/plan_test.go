@@ -1,4 +1,4 @@
-package plan
+package plan_test
 
 import (
 	"slices"
@@ -7,6 +7,7 @@ import (
 
 	"murmuration/action"
 	"murmuration/api"
+	"murmuration/plan"
 	"murmuration/tree"
 )
 
@@ -29,7 +30,7 @@ func TestInputs(t *testing.T) {
 		{[]string{"a", "b"}, nil, []api.Tree{one("y", "3"), one("y", "2")}, api.Tree{file("in/a/y", "3"), file("in/b/y", "2")}},
 		{[]string{"a", "b"}, nil, []api.Tree{nil, {}}, nil},
 	} {
-		got, e := Inputs(api.Target{Name: "t", Deps: x.deps}, x.sources, x.outs)
+		got, e := plan.Inputs(api.Target{Name: "t", Deps: x.deps}, x.sources, x.outs)
 		if e != api.OK || !tree.Same(got, x.want) {
 			t.Errorf("%d: %v, %d", i, got, e)
 		}
@@ -73,12 +74,12 @@ func TestFaults(t *testing.T) {
 		{x, big, []api.Tree{one("z", "")}, api.OK},
 		{x, big, []api.Tree{one("z", "1")}, api.ErrFull},
 	} {
-		got, e := Inputs(f.x, f.sources, f.outs)
+		got, e := plan.Inputs(f.x, f.sources, f.outs)
 		if e != f.want || e != api.OK && got != nil {
 			t.Errorf("Inputs %d: %v, %d", i, got, e)
 		}
-		a, e := Action(f.x, f.sources, f.outs)
-		if e != f.want || e != api.OK && !Same(a, api.Action{}) || e == api.OK && !action.May(a) {
+		a, e := plan.Action(f.x, f.sources, f.outs)
+		if e != f.want || e != api.OK && !plan.Same(a, api.Action{}) || e == api.OK && !action.May(a) {
 			t.Errorf("Action %d: %v, %d", i, a, e)
 		}
 	}
@@ -88,9 +89,9 @@ func TestFaults(t *testing.T) {
 func TestAction(t *testing.T) {
 	x := api.Target{Name: "t", Deps: []string{"b"}, Fuel: 7, Program: []api.Ins{{Op: api.InsFail}}}
 	sources, outs := one("x", "1"), []api.Tree{one("y", "2")}
-	a, e := Action(x, sources, outs)
+	a, e := plan.Action(x, sources, outs)
 	want := api.Action{Program: []api.Ins{{Op: api.InsFail}}, Inputs: api.Tree{file("in/b/y", "2"), file("src/x", "1")}, Fuel: 7}
-	if e != api.OK || !Same(a, want) {
+	if e != api.OK || !plan.Same(a, want) {
 		t.Error(a, e)
 	}
 	a.Program[0].Op = 1
@@ -106,7 +107,7 @@ func TestSame(t *testing.T) {
 	make := func() api.Action {
 		return api.Action{Program: []api.Ins{{Op: 1, A: "x"}, {Op: 2}}, Inputs: one("a", "1"), Fuel: 3}
 	}
-	if !Same(make(), make()) || !Same(api.Action{}, api.Action{Program: []api.Ins{}, Inputs: api.Tree{}}) {
+	if !plan.Same(make(), make()) || !plan.Same(api.Action{}, api.Action{Program: []api.Ins{}, Inputs: api.Tree{}}) {
 		t.Error("alike")
 	}
 	for i, change := range []func(a *api.Action){
@@ -115,7 +116,7 @@ func TestSame(t *testing.T) {
 	} {
 		a := make()
 		change(&a)
-		if Same(a, make()) || Same(make(), a) {
+		if plan.Same(a, make()) || plan.Same(make(), a) {
 			t.Errorf("change %d", i)
 		}
 	}

@@ -1,4 +1,4 @@
-package play
+package play_test
 
 import (
 	"bytes"
@@ -11,6 +11,7 @@ import (
 
 	"murmuration/api"
 	"murmuration/clean"
+	"murmuration/play"
 	"murmuration/swarm"
 	"murmuration/tree"
 )
@@ -54,18 +55,18 @@ edit 7 ""
 
 // P29.1: the form, line by line; it is read again.
 func TestForm(t *testing.T) {
-	b, e := Write(some())
-	if !May(some()) || e != api.OK || string(b) != form {
+	b, e := play.Write(some())
+	if !play.May(some()) || e != api.OK || string(b) != form {
 		t.Errorf("%s, %d", b, e)
 	}
-	s, at, e := Read(b)
-	if e != api.OK || at != 0 || !Same(s, some()) {
+	s, at, e := play.Read(b)
+	if e != api.OK || at != 0 || !play.Same(s, some()) {
 		t.Error(s, at, e)
 	}
 	loose := "# a script\n\n  config 3 4 5 40 60 5 90 2 3 6 3 \"100000\"\nholders 0\n\"secret\" x # y\n request\t0 a\ninject 1 0a\nedit 2 x"
-	s, at, e = Read([]byte(loose))
+	s, at, e = play.Read([]byte(loose))
 	want := api.Script{Config: config(), Secret: "x", Events: []api.Event{{Kind: api.EventRequest, Target: "a"}, {Kind: api.EventInject, Node: 1, Bytes: []byte{10}}, {Kind: api.EventEdit, Node: 2, File: []byte("x")}}}
-	if e != api.OK || at != 0 || !Same(s, want) {
+	if e != api.OK || at != 0 || !play.Same(s, want) {
 		t.Error(s, at, e)
 	}
 }
@@ -91,11 +92,11 @@ func TestReadWrong(t *testing.T) {
 		head + many: {api.OK, 0}, head + many + "tick 0": {api.ErrForm, 104}, head + many + "x": {api.ErrForm, 104}, head + many + "\n#\n\ntick 0": {api.ErrForm, 107}, head + "edit 1 f X 1\nx": {api.ErrForm, 5},
 		strings.Repeat("#", 20001): {api.ErrLong, 0},
 	} {
-		s, at, e := Read([]byte(text))
-		if e != want.e || at != want.at || e != api.OK && !Same(s, api.Script{}) {
+		s, at, e := play.Read([]byte(text))
+		if e != want.e || at != want.at || e != api.OK && !play.Same(s, api.Script{}) {
 			t.Errorf("%.200q: %d, %d; want %d, %d", text, at, e, want.at, want.e)
 		}
-		if _, played := Play([]byte(text)); played != want.e {
+		if _, played := play.Play([]byte(text)); played != want.e {
 			t.Errorf("Play of %.200q: %d", text, played)
 		}
 	}
@@ -126,36 +127,36 @@ func TestMay(t *testing.T) {
 	}
 	s := some()
 	s.Events = []api.Event{{Kind: api.EventInject, Bytes: make([]byte, 2000)}, {Kind: api.EventEdit, File: bytes.Repeat([]byte("x"), 3000)}, {Kind: api.EventRequest, Target: strings.Repeat("é", 25)}}
-	if b, e := Write(s); !May(s) || e != api.OK || len(b) < 7000 {
+	if b, e := play.Write(s); !play.May(s) || e != api.OK || len(b) < 7000 {
 		t.Error("the greatest", e)
 	}
 	long := api.Event{Kind: api.EventEdit, File: bytes.Repeat([]byte("x"), 3000), Sources: api.Tree{file("a", strings.Repeat("y", 1800))}}
 	s = api.Script{Config: config(), Events: []api.Event{long, long, long, long}}
-	if b, e := Write(s); e != api.OK || len(b) > api.MaxBuild {
+	if b, e := play.Write(s); e != api.OK || len(b) > api.MaxBuild {
 		t.Error("a long one", e)
 	}
 	s.Events = append(s.Events, long)
-	if b, e := Write(s); !May(s) || b != nil || e != api.ErrLong {
+	if b, e := play.Write(s); !play.May(s) || b != nil || e != api.ErrLong {
 		t.Error("too long a one", e)
 	}
 }
 
 func refused(t *testing.T, i int, s api.Script) {
 	t.Helper()
-	b, e := Write(s)
-	r, fault := Run(s)
-	if May(s) || b != nil || e != api.ErrArg || fault != api.ErrArg || r.Codes != nil || r.Ends != nil {
+	b, e := play.Write(s)
+	r, fault := play.Run(s)
+	if play.May(s) || b != nil || e != api.ErrArg || fault != api.ErrArg || r.Codes != nil || r.Ends != nil {
 		t.Errorf("wrong %d: %d, %d", i, e, fault)
 	}
 }
 
 // P29.1: Same looks at all fields.
 func TestSame(t *testing.T) {
-	if !Same(api.Script{}, api.Script{Events: []api.Event{}}) || !Same(some(), some()) {
+	if !play.Same(api.Script{}, api.Script{Events: []api.Event{}}) || !play.Same(some(), some()) {
 		t.Error("alike")
 	}
 	empty := api.Script{Events: []api.Event{{Bytes: []byte{}, File: []byte{}, Sources: api.Tree{}}}}
-	if !Same(empty, api.Script{Events: make([]api.Event, 1)}) {
+	if !play.Same(empty, api.Script{Events: make([]api.Event, 1)}) {
 		t.Error("no list and an empty one")
 	}
 	for i, change := range []func(s *api.Script){
@@ -164,7 +165,7 @@ func TestSame(t *testing.T) {
 	} {
 		s := some()
 		change(&s)
-		if Same(s, some()) || Same(some(), s) {
+		if play.Same(s, some()) || play.Same(some(), s) {
 			t.Errorf("change %d", i)
 		}
 	}
@@ -184,11 +185,11 @@ func TestPlay(t *testing.T) {
 		"edit 0 \"target a\\nfuel 900\\njump 0\\nend\"\nrequest 0 a\nrounds 100":                                                           "0\n0\n0\n0 up 100 3 71 \"a\"\n",
 		"": "0 up 0 0 0 \"\"\n",
 	} {
-		if b, e := Play([]byte(head + text)); e != api.OK || string(b) != want {
+		if b, e := play.Play([]byte(head + text)); e != api.OK || string(b) != want {
 			t.Errorf("%s:\n%s%d", text, b, e)
 		}
 	}
-	if b, e := Play([]byte(strings.Replace(two, "holders 1", "holders 6", 1) + "tick 0\ntick 1\nrounds 2")); e != api.OK || string(b) != "6\n0\n0\n1 up 3 0 0 \"\"\n" {
+	if b, e := play.Play([]byte(strings.Replace(two, "holders 1", "holders 6", 1) + "tick 0\ntick 1\nrounds 2")); e != api.OK || string(b) != "6\n0\n0\n1 up 3 0 0 \"\"\n" {
 		t.Errorf("%s%d", b, e)
 	}
 }
@@ -196,12 +197,32 @@ func TestPlay(t *testing.T) {
 // P29.2: any report has a text.
 func TestText(t *testing.T) {
 	r := api.Report{Codes: []api.Errno{0, -3, 250}, Ends: []api.End{{Node: 4, Now: 9}, {Node: -1, Up: true, Now: 7, Build: api.Build{State: 2, Target: "a\n\"\\", Errno: 5, Tree: api.Tree{file("b", ""), file("a", "\xff\x00")}}}}}
-	if got := string(Text(r)); got != "0\n-3\n250\n4 down\n-1 up 7 2 5 \"a\\n\\\"\\\\\" b \"\" a \"ff00\"\n" {
+	if got := string(play.Text(r)); got != "0\n-3\n250\n4 down\n-1 up 7 2 5 \"a\\n\\\"\\\\\" b \"\" a \"ff00\"\n" {
 		t.Error(got)
 	}
-	if len(Text(api.Report{})) != 0 {
+	if len(play.Text(api.Report{})) != 0 {
 		t.Error("no report")
 	}
+}
+
+// keepOwn makes all fields zero that the event's kind has not.
+func keepOwn(e *api.Event) {
+	old := *e
+	*e = api.Event{Kind: old.Kind}
+	switch old.Kind {
+	case api.EventDeliver, api.EventCopy, api.EventDrop, api.EventRounds:
+		e.N = old.N
+		return
+	case api.EventInject:
+		e.Bytes = old.Bytes
+	case api.EventEdit:
+		e.Sources, e.File = old.Sources, old.File
+	case api.EventRequest:
+		e.Target = old.Target
+	case api.EventCrash:
+		e.Keep = old.Keep
+	}
+	e.Node = old.Node
 }
 
 // chance is a script at chance.
@@ -211,7 +232,7 @@ func chance(r *rand.Rand) api.Script {
 		kind := uint8(1 + r.Intn(10))
 		e := api.Event{Kind: kind, Node: r.Intn(4), N: r.Intn(20), Keep: r.Intn(2000), Bytes: make([]byte, r.Intn(60)), Target: []string{"a", "b\"", ""}[r.Intn(3)], File: []byte([]string{copies, "", "target a\nfuel 9\nfail\nend"}[r.Intn(3)]), Sources: api.Tree{file("x", strings.Repeat("1", r.Intn(4)))}}
 		r.Read(e.Bytes)
-		e, _ = onlyOwn(e)
+		keepOwn(&e)
 		s.Events = append(s.Events, e)
 	}
 	return s
@@ -222,19 +243,19 @@ func TestChance(t *testing.T) {
 	r := rand.New(rand.NewSource(29))
 	for range 150 {
 		s := chance(r)
-		b, e := Write(s)
-		o, _, fault := Read(b)
-		if e != api.OK || fault != api.OK || !Same(s, o) {
+		b, e := play.Write(s)
+		o, _, fault := play.Read(b)
+		if e != api.OK || fault != api.OK || !play.Same(s, o) {
 			t.Fatal(e, fault, s)
 		}
-		report, _ := Run(s)
-		text, _ := Play(b)
-		if !bytes.Equal(text, Text(report)) {
+		report, _ := play.Run(s)
+		text, _ := play.Play(b)
+		if !bytes.Equal(text, play.Text(report)) {
 			t.Fatal("a text is not what happens")
 		}
 		cut := r.Intn(len(s.Events) + 1)
 		s.Events = s.Events[:cut]
-		if first, _ := Run(s); !slices.Equal(first.Codes, report.Codes[:cut]) {
+		if first, _ := play.Run(s); !slices.Equal(first.Codes, report.Codes[:cut]) {
 			t.Fatal("first events are answered otherwise")
 		}
 		checkEnds(t, o, report)
@@ -281,7 +302,7 @@ func TestWhole(t *testing.T) {
 				x.Events = append(x.Events, slices.Repeat([]api.Event{{Kind: api.EventTick, Node: n}}, 30)...)
 			}
 		}
-		r, e := Run(x)
+		r, e := play.Run(x)
 		if e != api.OK || len(r.Ends) != 3 {
 			t.Fatal(e)
 		}

@@ -1,4 +1,4 @@
-package program
+package program_test
 
 import (
 	"bytes"
@@ -8,6 +8,7 @@ import (
 	"testing"
 
 	"murmuration/api"
+	"murmuration/program"
 )
 
 var long = strings.Repeat("w", 41)
@@ -46,19 +47,19 @@ func fails(n int) []api.Ins {
 // P6.1: what may be, and its bytes; what is written is read.
 func TestRight(t *testing.T) {
 	for i, p := range append(right, fails(30)) {
-		if !May(p) {
+		if !program.May(p) {
 			t.Errorf("right %d", i)
 		}
-		b, e := Bytes(p)
+		b, e := program.Bytes(p)
 		if e != api.OK {
 			t.Errorf("Bytes of right %d: %d", i, e)
 		}
-		q, e := Read(b)
-		if e != api.OK || !Same(p, q) || !Same(q, p) {
+		q, e := program.Read(b)
+		if e != api.OK || !program.Same(p, q) || !program.Same(q, p) {
 			t.Errorf("Read of right %d: %d, %v", i, e, q)
 		}
 		for _, x := range [][]byte{b[:len(b)-1], append(bytes.Clone(b), 0), append([]byte{0}, b...)} {
-			if q, e := Read(x); q != nil || e != api.ErrForm {
+			if q, e := program.Read(x); q != nil || e != api.ErrForm {
 				t.Errorf("Read near right %d: %d", i, e)
 			}
 		}
@@ -68,10 +69,10 @@ func TestRight(t *testing.T) {
 // P6.1: what may not be.
 func TestWrong(t *testing.T) {
 	for i, p := range append(wrong, fails(31)) {
-		if May(p) {
+		if program.May(p) {
 			t.Errorf("wrong %d", i)
 		}
-		if b, e := Bytes(p); b != nil || e != api.ErrArg {
+		if b, e := program.Bytes(p); b != nil || e != api.ErrArg {
 			t.Errorf("Bytes of wrong %d: %d", i, e)
 		}
 	}
@@ -79,7 +80,7 @@ func TestWrong(t *testing.T) {
 
 // P6.1: the form, byte by byte, and forms that are none.
 func TestForm(t *testing.T) {
-	b, _ := Bytes([]api.Ins{{Op: api.InsSlice, A: "a", B: "bc", N: 300, M: 7}})
+	b, _ := program.Bytes([]api.Ins{{Op: api.InsSlice, A: "a", B: "bc", N: 300, M: 7}})
 	want := []byte{1, 1, 1, 3, 1, 1, 'a', 1, 2, 'b', 'c', 0, 2, 1, 44, 1, 7}
 	if !bytes.Equal(b, want) {
 		t.Errorf("%v", b)
@@ -88,7 +89,7 @@ func TestForm(t *testing.T) {
 		nil, {1}, {1, 31}, {9}, {1, 1}, {1, 1, 1, 11, 0, 0, 0, 0}, {1, 1, 1, 11, 0, 0, 0, 0, 1, 1}, {1, 1, 2, 1, 11, 0, 0, 0, 0, 0}, {1, 1, 1, 12, 0, 0, 0, 0, 0},
 		{1, 1, 1, 11, 1, 41, 0, 0, 0, 0}, {1, 1, 0, 0, 0, 0, 0, 0}, {1, 1, 1, 8, 0, 0, 0, 8, 255, 255, 255, 255, 255, 255, 255, 255, 0}, {8, 255, 255, 255, 255, 255, 255, 255, 255},
 	} {
-		if p, e := Read(x); p != nil || e != api.ErrForm {
+		if p, e := program.Read(x); p != nil || e != api.ErrForm {
 			t.Errorf("Read of %v: %v, %d", x, p, e)
 		}
 	}
@@ -97,12 +98,12 @@ func TestForm(t *testing.T) {
 // P6.1: bytes have one form.
 func TestOneForm(t *testing.T) {
 	r := rand.New(rand.NewSource(6))
-	b, _ := Bytes([]api.Ins{{Op: api.InsSlice, A: "a", B: "bc", N: 3, M: 7}, {Op: api.InsIfSame, A: "x", B: "y", N: 2}})
+	b, _ := program.Bytes([]api.Ins{{Op: api.InsSlice, A: "a", B: "bc", N: 3, M: 7}, {Op: api.InsIfSame, A: "x", B: "y", N: 2}})
 	for range 20000 {
 		c := bytes.Clone(b)
 		c[r.Intn(len(c))] = byte(r.Intn(130))
-		if p, e := Read(c); e == api.OK {
-			if again, _ := Bytes(p); !bytes.Equal(again, c) {
+		if p, e := program.Read(c); e == api.OK {
+			if again, _ := program.Bytes(p); !bytes.Equal(again, c) {
 				t.Fatalf("%v is read as %v", c, p)
 			}
 		}
@@ -112,11 +113,11 @@ func TestOneForm(t *testing.T) {
 // P6.1: Same.
 func TestSame(t *testing.T) {
 	p := []api.Ins{{Op: api.InsFail}, {Op: 99, A: "a", M: 3}}
-	if !Same(nil, []api.Ins{}) || !Same(p, []api.Ins{{Op: api.InsFail}, {Op: 99, A: "a", M: 3}}) {
+	if !program.Same(nil, []api.Ins{}) || !program.Same(p, []api.Ins{{Op: api.InsFail}, {Op: 99, A: "a", M: 3}}) {
 		t.Error("alike")
 	}
 	for _, q := range [][]api.Ins{nil, p[:1], {p[1], p[0]}, {p[0], {Op: 99, A: "a", M: 4}}, {p[0], {Op: 99, B: "a", M: 3}}, {p[0], {Op: 98, A: "a", M: 3}}} {
-		if Same(p, q) || Same(q, p) {
+		if program.Same(p, q) || program.Same(q, p) {
 			t.Errorf("%v", q)
 		}
 	}

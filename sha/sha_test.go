@@ -1,4 +1,4 @@
-package sha
+package sha_test
 
 import (
 	"bytes"
@@ -8,6 +8,7 @@ import (
 	"testing"
 
 	"murmuration/api"
+	"murmuration/sha"
 )
 
 func row(n int) []byte {
@@ -25,7 +26,7 @@ func TestExamples(t *testing.T) {
 		"abc":                        "ba7816bf8f01cfea414140de5dae2223b00361a396177a9cb410ff61f20015ad",
 		strings.Repeat("a", 1000000): "cdc76e5c9914fb9281a1c7e284d73e67f1809a48a497200e046d39ccc7112cd0",
 	} {
-		d := Sum([]byte(text))
+		d := sha.Sum([]byte(text))
 		if got := hex.EncodeToString(d[:]); got != want {
 			t.Errorf("Sum of %d bytes: %s", len(text), got)
 		}
@@ -36,7 +37,7 @@ func TestExamples(t *testing.T) {
 func TestLengths(t *testing.T) {
 	for n := range 300 {
 		b := row(n)
-		if Sum(b) != api.Digest(sha256.Sum256(b)) {
+		if sha.Sum(b) != api.Digest(sha256.Sum256(b)) {
 			t.Errorf("Sum of %d bytes", n)
 		}
 		if !bytes.Equal(b, row(n)) {
@@ -49,18 +50,18 @@ func TestLengths(t *testing.T) {
 func TestParts(t *testing.T) {
 	for n := range 200 {
 		b := row(n)
-		want := Sum(append([]byte{'x'}, b...))
+		want := sha.Sum(append([]byte{'x'}, b...))
 		for _, cut := range []int{0, 1, n / 3, n / 2, n} {
 			cut = min(cut, n)
-			if Parts('x', b[:cut], nil, b[cut:]) != want {
+			if sha.Parts('x', b[:cut], nil, b[cut:]) != want {
 				t.Errorf("Parts of %d bytes cut at %d", n, cut)
 			}
 		}
 	}
-	if Parts('x') != Sum([]byte("x")) || Parts('x', nil, []byte{}) != Sum([]byte("x")) {
+	if sha.Parts('x') != sha.Sum([]byte("x")) || sha.Parts('x', nil, []byte{}) != sha.Sum([]byte("x")) {
 		t.Error("Parts of no parts")
 	}
-	if Parts('x', []byte("a"), []byte("b")) == Parts('x', []byte("b"), []byte("a")) {
+	if sha.Parts('x', []byte("a"), []byte("b")) == sha.Parts('x', []byte("b"), []byte("a")) {
 		t.Error("Parts does not hang on the order")
 	}
 }

@@ -1,4 +1,4 @@
-package store
+package store_test
 
 import (
 	"bytes"
@@ -12,18 +12,19 @@ import (
 	"murmuration/disk"
 	"murmuration/journal"
 	"murmuration/merkle"
+	"murmuration/store"
 )
 
-func open(t *testing.T, d *disk.Disk, quota int) *Store {
+func open(t *testing.T, d *disk.Disk, quota int) *store.Store {
 	t.Helper()
-	s, e := Open(d, quota)
+	s, e := store.Open(d, quota)
 	if e != api.OK || s == nil {
 		t.Fatalf("Open: %d", e)
 	}
 	return s
 }
 
-func put(t *testing.T, s *Store, text string) api.Digest {
+func put(t *testing.T, s *store.Store, text string) api.Digest {
 	t.Helper()
 	d, e := s.Put([]byte(text))
 	if e != api.OK || d != merkle.Root([]byte(text)) {
@@ -60,12 +61,12 @@ func TestOpen(t *testing.T) {
 	if s.Incarnation() != 2 || s.Used() != 0 {
 		t.Error("behind a crash", s.Incarnation(), s.Used())
 	}
-	if s, e := Open(nil, 0); s != nil || e != api.ErrNil {
+	if s, e := store.Open(nil, 0); s != nil || e != api.ErrNil {
 		t.Error("no disk", e)
 	}
 	for _, q := range []int{0, -1, 200001, math.MinInt, math.MaxInt} {
 		before := d.Copy()
-		if s, e := Open(d, q); s != nil || e != api.ErrArg || !bytes.Equal(d.Bytes(0), before.Bytes(0)) {
+		if s, e := store.Open(d, q); s != nil || e != api.ErrArg || !bytes.Equal(d.Bytes(0), before.Bytes(0)) {
 			t.Error("quota", q, e)
 		}
 	}
@@ -209,12 +210,13 @@ func TestKeep(t *testing.T) {
 	if a, ok := s.Find(api.Digest{3}); a != (api.Attest{}) || ok {
 		t.Error("Find of none")
 	}
-	put(t, s, string(make([]byte, 96)))
-	if !slices.Equal(s.Results(), []api.Attest{result(1, "bbb"), result(9, "bbb")}) && len(s.Blobs()) != 1 {
-		t.Error("results of blobs that are gone", s.Results())
+	put(t, s, string(make([]byte, 97)))
+	if !slices.Equal(s.Results(), []api.Attest{result(1, "bbb"), result(9, "bbb")}) || s.Has(names("aaa")[0]) {
+		t.Error("the results of a blob that is gone", s.Results())
 	}
-	if s.Has(names("aaa")[0]) || len(s.Results()) != 2 && s.Has(names("bbb")[0]) {
-		t.Error("what went")
+	put(t, s, string(make([]byte, 98)))
+	if len(s.Results()) != 0 || len(s.Blobs()) != 1 {
+		t.Error("all gone", s.Results())
 	}
 }
 
@@ -261,7 +263,7 @@ func incarnation(n byte) []byte { return []byte{5, 0, 0, 0, 0, 0, 0, 0, n} }
 
 var seal = []byte{6}
 
-func openFiles(t *testing.T, a, b []byte) *Store {
+func openFiles(t *testing.T, a, b []byte) *store.Store {
 	t.Helper()
 	d := disk.New()
 	d.Append(0, a)
@@ -315,33 +317,43 @@ func TestLiving(t *testing.T) {
 	}
 }
 
+// living is the records of the file that has a seal and the greatest generation.
+func living(d *disk.Disk) (records [][]byte) {
+	for f := range 2 {
+		r, _ := journal.Read(d.Bytes(f))
+		sealed := slices.ContainsFunc(r, func(x []byte) bool { return bytes.Equal(x, seal) })
+		if sealed && (records == nil || bytes.Compare(r[0], records[0]) > 0) {
+			records = r
+		}
+	}
+	return records
+}
+
 // P12.4: Compact leaves no record more than is needed, in the order of use.
 func TestCompact(t *testing.T) {
 	d := disk.New()
-	s := open(t, d, 100)
-	for _, x := range []string{"a", "b", "c"} {
+	s := open(t, d, 3)
+	for _, x := range []string{"a", "b", "c", "d"} {
 		put(t, s, x)
 	}
-	s.Keep(result(1, "a"))
 	s.Keep(result(1, "b"))
-	s.Get(names("a")[0])
+	s.Keep(result(1, "c"))
+	s.Get(names("b")[0])
 	if s.Compact() != api.OK {
 		t.Error("Compact")
 	}
-	var all [][]byte
-	for f := range 2 {
-		records, whole := journal.Read(d.Bytes(f))
-		if whole != len(d.Bytes(f)) || d.Synced(f) != whole {
-			t.Error("file", f)
+	var blobs []string
+	for _, r := range living(d) {
+		if r[0] == 2 {
+			blobs = append(blobs, string(r[1:]))
 		}
-		all = append(all, records...)
 	}
-	if len(all) != 7 || !bytes.Equal(all[1], blobOf("b")) || !bytes.Equal(all[2], blobOf("c")) || !bytes.Equal(all[3], blobOf("a")) {
-		t.Error(all)
+	if !slices.Equal(blobs, []string{"c", "d", "b"}) || len(living(d)) != 7 {
+		t.Error(blobs, len(living(d)))
 	}
 	d.Crash([2]int{})
 	s = open(t, d, 100)
-	if !slices.Equal(s.Blobs(), names("b", "c", "a")) || !slices.Equal(s.Results(), []api.Attest{result(1, "b")}) {
+	if !slices.Equal(s.Blobs(), names("c", "d", "b")) || !slices.Equal(s.Results(), []api.Attest{result(1, "c")}) {
 		t.Error(s.Blobs())
 	}
 }
@@ -367,7 +379,6 @@ func TestDiskFull(t *testing.T) {
 	s := open(t, d, 1000)
 	put(t, s, "aaa")
 	put(t, s, "bbb")
-	s.Get(names("aaa")[0])
 	for i := range 20000 {
 		if e := s.Keep(result(byte(i%3), []string{"aaa", "bbb"}[i%2])); e != api.OK {
 			t.Fatal(i, e)
@@ -393,7 +404,8 @@ func TestDiskFull(t *testing.T) {
 	checkFull(t, d, s, n)
 }
 
-func checkFull(t *testing.T, d *disk.Disk, s *Store, n int) {
+// checkFull: what has no room changes nothing.
+func checkFull(t *testing.T, d *disk.Disk, s *store.Store, n int) {
 	results, blobs := s.Results(), s.Blobs()
 	if len(results) != n+3 || n < 9000 {
 		t.Error("how many fit", n)
@@ -402,34 +414,43 @@ func checkFull(t *testing.T, d *disk.Disk, s *Store, n int) {
 	if _, e := s.Put(big); e != api.ErrFull || s.Has(merkle.Root(big)) {
 		t.Error("Put", e)
 	}
-	if s.Raise(77) != api.OK || s.Keep(result(0, "bbb")) != api.OK || s.Keep(result(0, "aaa")) != api.OK || s.Sync() != api.OK || s.Compact() != api.OK {
+	if s.Sync() != api.OK || s.Compact() != api.OK || s.Used() != 6 {
 		t.Error("what takes no more room is done")
 	}
-	if len(s.Results()) != len(results) || !slices.Equal(s.Blobs(), blobs) {
+	if !slices.Equal(s.Results(), results) || !slices.Equal(s.Blobs(), blobs) {
 		t.Error("something has changed")
 	}
+	inc := s.Incarnation()
 	s = open(t, d, 1000)
-	if len(s.Results()) != len(results) || s.Incarnation() != 78 {
+	if !slices.Equal(s.Results(), results) || s.Incarnation() <= inc {
 		t.Error("behind Open", len(s.Results()), s.Incarnation())
 	}
 }
 
-// P12.4: sizes that are told are those of the forms.
-func TestSizes(t *testing.T) {
-	s := open(t, disk.New(), 100000)
-	for _, n := range []int{1, 100, 253, 254, 255, 256, 257, 5000} {
-		put(t, s, string(make([]byte, n)))
-		s.Keep(result(byte(n), string(make([]byte, n))))
-		s.Compact()
-		if got := len(s.disk.Bytes(s.living)); got != s.needed {
-			t.Errorf("%d bytes, %d are needed", got, s.needed)
+// P12.2: where the disk has no room, room is made by blobs that go, if the quota asks for it.
+func TestQuotaOnDisk(t *testing.T) {
+	d := disk.New()
+	s := open(t, d, 200000)
+	for i := range 2000 {
+		b := make([]byte, 4000)
+		b[0], b[1] = byte(i), byte(i>>8)
+		if _, e := s.Put(b); e != api.OK {
+			t.Fatal(i, e)
 		}
+	}
+	if len(s.Blobs()) != 50 || s.Used() != 200000 {
+		t.Error(len(s.Blobs()), s.Used())
+	}
+	blobs := s.Blobs()
+	d.Crash([2]int{api.MaxDisk, api.MaxDisk})
+	if s := open(t, d, 200000); !slices.Equal(s.Blobs(), blobs) {
+		t.Error("behind a crash", len(s.Blobs()))
 	}
 }
 
 // P12.5: a store that is not there.
 func TestNone(t *testing.T) {
-	for _, s := range []*Store{nil, {}} {
+	for _, s := range []*store.Store{nil, {}} {
 		d, e := s.Put([]byte("a"))
 		if d != (api.Digest{}) || e != api.ErrNil || s.Keep(result(1, "a")) != api.ErrNil || s.Pin(d) != api.ErrNil || s.Unpin(d) != api.ErrNil || s.Raise(1) != api.ErrNil || s.Sync() != api.ErrNil || s.Compact() != api.ErrNil {
 			t.Error("errors")
@@ -470,7 +491,7 @@ func (m state) with(r []byte) state {
 	return n
 }
 
-func (m state) is(s *Store) bool {
+func (m state) is(s *store.Store) bool {
 	if !slices.Equal(s.Blobs(), names(m.blobs...)) || len(s.Results()) != len(m.results) {
 		return false
 	}
@@ -487,7 +508,7 @@ type trial struct {
 	t       *testing.T
 	r       *rand.Rand
 	d       *disk.Disk
-	s       *Store
+	s       *store.Store
 	use     []string // the order of use
 	base    state
 	records [][]byte

@@ -1,4 +1,4 @@
-package swarm
+package swarm_test
 
 import (
 	"bytes"
@@ -14,6 +14,7 @@ import (
 	"murmuration/disk"
 	"murmuration/frames"
 	"murmuration/node"
+	"murmuration/swarm"
 	"murmuration/tree"
 )
 
@@ -29,16 +30,16 @@ func one(path, text string) api.Tree { return api.Tree{{Path: path, Bytes: []byt
 
 const copies = "target a; fuel 99; copy src/x out/y; end; target b a; fuel 99; copy in/a/y out/z; end; "
 
-func make3(t *testing.T, c api.Config, holders uint16) *Swarm {
+func make3(t *testing.T, c api.Config, holders uint16) *swarm.Swarm {
 	t.Helper()
-	s, e := New(c, holders, secret)
+	s, e := swarm.New(c, holders, secret)
 	if e != api.OK || s == nil {
 		t.Fatal(e)
 	}
 	return s
 }
 
-func do(t *testing.T, s *Swarm, want api.Errno, l ...api.Event) {
+func do(t *testing.T, s *swarm.Swarm, want api.Errno, l ...api.Event) {
 	t.Helper()
 	for _, e := range l {
 		if got := s.Do(e); got != want {
@@ -60,16 +61,16 @@ func edit(n int, sources api.Tree, text string) api.Event {
 
 // P28.1, P28.2: New.
 func TestNew(t *testing.T) {
-	if s, e := New(api.Config{}, 1, secret); s != nil || e != api.ErrArg {
+	if s, e := swarm.New(api.Config{}, 1, secret); s != nil || e != api.ErrArg {
 		t.Error(e)
 	}
 	c := config(3)
 	c.Quota = 0
-	if s, e := New(c, 1, secret); s != nil || e != api.ErrArg {
+	if s, e := swarm.New(c, 1, secret); s != nil || e != api.ErrArg {
 		t.Error(e)
 	}
 	own := bytes.Clone(secret)
-	s, e := New(config(3), 0xfffd, own)
+	s, e := swarm.New(config(3), 0xfffd, own)
 	own[0]++
 	if e != api.OK || s.Config() != config(3) || len(s.Packets()) != 0 {
 		t.Error(e)
@@ -188,7 +189,7 @@ func TestFull(t *testing.T) {
 // P28.1: rounds are ticks by numbers, and then all that is on its way, one by one; what is sent meanwhile waits.
 func TestRounds(t *testing.T) {
 	a, b := make3(t, config(4), 7), make3(t, config(4), 7)
-	for _, s := range []*Swarm{a, b} {
+	for _, s := range []*swarm.Swarm{a, b} {
 		for n := range 3 {
 			do(t, s, api.OK, edit(n, one("x", "1"), copies), request(n, "b"))
 		}
@@ -210,7 +211,7 @@ func TestRounds(t *testing.T) {
 	}
 }
 
-func sameSwarms(a, b *Swarm) bool {
+func sameSwarms(a, b *swarm.Swarm) bool {
 	for n := range api.MaxNodes {
 		x, y := a.Node(n), b.Node(n)
 		if a.Up(n) != b.Up(n) || x.Now() != y.Now() || !slices.Equal(x.Known(), y.Known()) || !slices.Equal(x.Members(), y.Members()) || !slices.Equal(x.Ran(), y.Ran()) {
@@ -255,7 +256,7 @@ func TestNodes(t *testing.T) {
 
 // P28.2: a swarm that is not there.
 func TestNone(t *testing.T) {
-	for _, s := range []*Swarm{nil, {}} {
+	for _, s := range []*swarm.Swarm{nil, {}} {
 		do(t, s, api.ErrNil, tick(0), api.Event{}, rounds(1))
 		if s.Packets() != nil || s.Up(0) || s.Holder(0) || s.Node(0) != nil || s.Config() != (api.Config{}) {
 			t.Error("answers")
@@ -264,7 +265,7 @@ func TestNone(t *testing.T) {
 }
 
 // chance is an event at chance; some of the injected are frames with another tag.
-func chance(r *rand.Rand, s *Swarm) api.Event {
+func chance(r *rand.Rand, s *swarm.Swarm) api.Event {
 	n := r.Intn(4)
 	packet := max(0, r.Intn(len(s.Packets())+1)-r.Intn(2))
 	text := []string{copies, copies + "target c b; fuel 99; sort src/x; copy src/x out/w; end", "target a; fuel 9; fail; end; target b; fuel 99; copy src/x out/q; end"}[r.Intn(3)]
@@ -310,7 +311,7 @@ func foreign(r *rand.Rand, n int) api.Event {
 // world remembers what a test has to know of a swarm that changes.
 type world struct {
 	t      *testing.T
-	s      *Swarm
+	s      *swarm.Swarm
 	ran    map[api.Digest]int
 	trees  map[api.Digest]api.Tree
 	edits  [api.MaxNodes]api.Event
@@ -496,7 +497,7 @@ func TestGoodTimes(t *testing.T) {
 }
 
 // checkCalm: what all know is one; whoever is up is alive for them, whoever is not is dead.
-func checkCalm(t *testing.T, s *Swarm) {
+func checkCalm(t *testing.T, s *swarm.Swarm) {
 	t.Helper()
 	for n := range s.Config().Nodes {
 		if !s.Up(n) {

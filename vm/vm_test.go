@@ -1,4 +1,4 @@
-package vm
+package vm_test
 
 import (
 	"bytes"
@@ -9,6 +9,7 @@ import (
 
 	"murmuration/api"
 	"murmuration/tree"
+	"murmuration/vm"
 )
 
 func file(path, text string) api.File { return api.File{Path: path, Bytes: []byte(text)} }
@@ -25,7 +26,7 @@ type run struct {
 
 func (x run) check(t *testing.T) {
 	t.Helper()
-	out, used, e := Exec(x.program, x.files, x.fuel)
+	out, used, e := vm.Exec(x.program, x.files, x.fuel)
 	if !tree.Same(out, x.out) || used != x.used || e != x.e {
 		t.Errorf("%s: %v, %d, %d", x.name, out, used, e)
 	}
@@ -80,7 +81,7 @@ func TestSort(t *testing.T) {
 	for in, want := range map[string]string{
 		"": "", "\n": "\n", "\n\n": "\n\n", "b\na": "a\nb", "b\na\n": "a\nb\n", "ab\na\nb\n": "a\nab\nb\n", "b\n\na": "\na\nb", "\nb": "\nb", "b\n\n": "\nb\n", "a\xff\nb\na\x00": "a\x00\na\xff\nb",
 	} {
-		out, _, e := Exec([]api.Ins{{Op: api.InsSort, A: "a"}, cp("a", "out/a")}, api.Tree{file("a", in)}, 99)
+		out, _, e := vm.Exec([]api.Ins{{Op: api.InsSort, A: "a"}, cp("a", "out/a")}, api.Tree{file("a", in)}, 99)
 		if e != api.OK || string(out[0].Bytes) != want {
 			t.Errorf("%q: %v, %d", in, out, e)
 		}
@@ -162,7 +163,7 @@ func TestArguments(t *testing.T) {
 func TestMemory(t *testing.T) {
 	files := api.Tree{file("a", "b\na"), file("out/b", "1")}
 	p := []api.Ins{{Op: api.InsSort, A: "a"}, cp("a", "out/a")}
-	out, _, e := Exec(p, files, 99)
+	out, _, e := vm.Exec(p, files, 99)
 	for i := range out {
 		for j := range out[i].Bytes {
 			out[i].Bytes[j]++
@@ -212,17 +213,17 @@ func TestFuel(t *testing.T) {
 	for range 3000 {
 		p := chanceProgram(r)
 		fuel := r.Intn(60)
-		out, used, e := Exec(p, files, fuel)
+		out, used, e := vm.Exec(p, files, fuel)
 		ends[e]++
 		if used > fuel || !tree.May(out) || e != api.OK && out != nil || e == api.ErrArg {
 			t.Fatalf("%v with %d: %v, %d, %d", p, fuel, out, used, e)
 		}
-		more, usedMore, eMore := Exec(p, files, fuel+1+r.Intn(100))
+		more, usedMore, eMore := vm.Exec(p, files, fuel+1+r.Intn(100))
 		if e != api.ErrFuel && (!tree.Same(out, more) || used != usedMore || e != eMore) {
 			t.Fatalf("%v: more fuel than %d: %d", p, fuel, eMore)
 		}
 		if e != api.ErrFuel && used > 0 {
-			if _, _, less := Exec(p, files, used-1); less != api.ErrFuel {
+			if _, _, less := vm.Exec(p, files, used-1); less != api.ErrFuel {
 				t.Fatalf("%v with %d: %d", p, used-1, less)
 			}
 		}
