@@ -25,14 +25,14 @@ func TestExample(t *testing.T) {
 		}
 		holds(t, d, 0, "abcdef", 3)
 		d.Crash([2]int{1, 0})
-		holds(t, d, 0, "abc", 3)
+		holds(t, d, 0, "abcd", 4)
 		holds(t, d, 1, "", 0)
 	}
 }
 
 // P10.2: what is kept of a file that is torn.
 func TestCrash(t *testing.T) {
-	for keep, want := range map[int]string{math.MinInt: "abc", -1: "abc", 0: "abc", 2: "abc", 3: "abc", 4: "abcd", 6: "abcdef", 7: "abcdef", math.MaxInt: "abcdef"} {
+	for keep, want := range map[int]string{math.MinInt: "abc", -1: "abc", 0: "abc", 1: "abcd", 2: "abcde", 3: "abcdef", 4: "abcdef", math.MaxInt: "abcdef"} {
 		for f := range 2 {
 			d := disk.New()
 			d.Append(f, []byte("abc"))
@@ -127,12 +127,13 @@ func TestMemory(t *testing.T) {
 	holds(t, o, 0, "abc", 3)
 }
 
-// P10.2: what was synced stays, and behind a crash a file is a beginning of what it was.
+// P10.2: what was synced stays, and of what was not as much as is told.
 func TestChance(t *testing.T) {
 	r := rand.New(rand.NewSource(10))
 	for range 300 {
 		d := disk.New()
-		var all, lasting [2][]byte
+		var all [2][]byte
+		var synced [2]int
 		for range 40 {
 			f := r.Intn(2)
 			switch r.Intn(6) {
@@ -143,20 +144,23 @@ func TestChance(t *testing.T) {
 				all[f] = append(bytes.Clone(all[f]), b...)
 			case 3:
 				d.Sync(f)
-				lasting[f] = all[f]
+				synced[f] = len(all[f])
 			case 4:
 				if r.Intn(4) == 0 {
 					d.Clear(f)
-					all[f], lasting[f] = nil, nil
+					all[f], synced[f] = nil, 0
 				}
 			default:
-				d.Crash([2]int{r.Intn(30) - 5, r.Intn(30) - 5})
+				keep := [2]int{r.Intn(12) - 3, r.Intn(12) - 3}
+				d.Crash(keep)
 				for f := range 2 {
-					b := d.Bytes(f)
-					if !bytes.HasPrefix(b, lasting[f]) || !bytes.HasPrefix(all[f], b) || d.Synced(f) != len(b) {
-						t.Fatalf("%v of %v, synced %v", b, all[f], lasting[f])
-					}
-					all[f], lasting[f] = b, b
+					n := min(len(all[f]), synced[f]+max(0, keep[f]))
+					all[f], synced[f] = all[f][:n], n
+				}
+			}
+			for f := range 2 {
+				if !bytes.Equal(d.Bytes(f), all[f]) || d.Synced(f) != synced[f] {
+					t.Fatalf("%v, %d; want %v, %d", d.Bytes(f), d.Synced(f), all[f], synced[f])
 				}
 			}
 		}

@@ -61,7 +61,6 @@ func (h *hasher) take(b []byte) {
 			return
 		}
 		h.block(h.rest[:])
-		h.held = 0
 	}
 	for len(b) >= blockSize {
 		h.block(b[:blockSize])
