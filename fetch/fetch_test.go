@@ -70,6 +70,9 @@ func TestNew(t *testing.T) {
 	if e != api.OK || f.Root() != (api.Digest{1}) || f.Length() != 5000 || f.Left() != 79 {
 		t.Error("the greatest", e)
 	}
+	if f, e := fetch.New(api.Digest{1}, 1, nil, 1, 1, 1, 0); e != api.OK || f.Length() != 1 || f.Left() != 1 {
+		t.Error("the least", e)
+	}
 	peers := []int{-5, 3}
 	b := row(65)
 	f = begin(t, b, peers, 1, 5, 9, 0)

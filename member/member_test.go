@@ -73,6 +73,8 @@ func TestHearSelf(t *testing.T) {
 	hear(t, m, told(1, 4), false, self(4))
 	hear(t, m, told(1, 9), true, self(9))
 	hear(t, m, told(1, 8), false, self(9))
+	hear(t, m, told(2, 5), false, self(9))
+	hear(t, m, told(3, 8), false, self(9))
 	hear(t, m, told(2, 20), true, self(21))
 	hear(t, m, told(2, api.MaxInc-1), true, self(api.MaxInc))
 	hear(t, m, told(3, api.MaxInc), false, self(api.MaxInc))

@@ -276,6 +276,17 @@ func TestTwo(t *testing.T) {
 	if len(g.nodes[1].Ran()) != 2 || len(g.nodes[2].Ran()) != 0 || !slices.Equal(ways(g.nodes[2]), []uint8{api.TookFetched, api.TookFetched}) {
 		t.Error(len(g.nodes[1].Ran()), ways(g.nodes[1]), ways(g.nodes[2]))
 	}
+	out, _ := tree.Bytes(one("y", strings.Repeat("long", 99)))
+	g.nodes[2].Out()
+	g.nodes[2].Deliver(frame(t, api.Frame{Kind: api.FrameWant, From: 0, To: 2, Root: merkle.Root(out)}))
+	if l := told(t, g.nodes[2]); len(l) != 1 || l[0].Kind != api.FrameChunk {
+		t.Error("what was fetched is not stored", l)
+	}
+	g.nodes[2].Request("b")
+	g.rounds(20)
+	if how := ways(g.nodes[2]); !slices.Equal(how[2:], []uint8{api.TookStored, api.TookStored}) {
+		t.Error("what was fetched is not found", how)
+	}
 	for _, n := range g.nodes {
 		if len(n.Known()) != 2 || !slices.Equal(n.Known(), g.nodes[1].Known()) {
 			t.Error("known", len(n.Known()))
@@ -320,6 +331,40 @@ func TestTold(t *testing.T) {
 	if !slices.Equal(pings, []int{102, 303, 500, 702, 903, 1100}) {
 		t.Error(pings)
 	}
+}
+
+// P27.3: each tick, if Gossip is 1.
+func TestGossipEachTick(t *testing.T) {
+	c := config(2)
+	c.Gossip = 1
+	n := network(t, c).nodes[1]
+	for range 5 {
+		n.Tick()
+		starts := 0
+		for _, f := range told(t, n) {
+			if f.Kind == api.FrameGossip && f.To == 0 {
+				starts++
+			}
+		}
+		if starts != 1 {
+			t.Error("starts", starts)
+		}
+	}
+}
+
+// P27.3: a fetch that is stuck has failed, long ahead of its budget.
+func TestStuck(t *testing.T) {
+	c := config(2)
+	c.Budget, c.Cap, c.Suspect = 100000, 200000, 100000
+	key, b := keyOf(t, one("x", "1"), copies, "a")
+	n := network(t, c).nodes[1]
+	a, _ := attest.Make(secret, key, api.Digest{5}, 70)
+	n.Deliver(frame(t, api.Frame{Kind: 4, From: 0, To: 1, Attest: a}))
+	begin(t, n, one("x", "1"), copies, "a")
+	for range 100 {
+		n.Tick()
+	}
+	done(t, n, "a", b.Out)
 }
 
 // frame is a frame's bytes by the secret.

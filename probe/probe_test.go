@@ -189,6 +189,26 @@ func TestHear(t *testing.T) {
 	}
 }
 
+// P19.2: a ping for another one is under way up to twice timeout ticks; P19.3: an Ack of none is nothing.
+func TestForeign(t *testing.T) {
+	for last, want := range map[int]string{3: "ack 2 about 0 #9", 4: ""} {
+		p, _ := prober(1, 3, 50, 2, 3)
+		p.Tick(0)
+		hears(t, p, 2, api.Probe{To: 1, Kind: api.ProbeAsk, Seq: 9, About: 0}, 0, "ping 0 #2")
+		for now := 1; now <= last; now++ {
+			p.Tick(now)
+		}
+		hears(t, p, 0, api.Probe{To: 1, Kind: api.ProbeAck, Seq: 2, About: 0}, last, want)
+		hears(t, p, 0, api.Probe{To: 1, Kind: api.ProbeAck, Seq: 77, About: 0}, last, "")
+		hears(t, p, 0, api.Probe{To: 1, Kind: api.ProbeAck, Seq: 0, About: 0}, last, "")
+	}
+	p, m := prober(0, 2, 50, 2, 3)
+	hears(t, p, 1, api.Probe{Kind: api.ProbePing, Seq: 1, Updates: []api.Update{{Node: 1, State: api.Suspect, Inc: api.MaxInc}}}, 0, "ack 1 about 0 #1")
+	if u, _ := m.Get(1); u.Inc != api.MaxInc {
+		t.Error("the greatest incarnation", u)
+	}
+}
+
 // P19.3: what is refused changes nothing.
 func TestHearWrong(t *testing.T) {
 	p, m := prober(0, 3, 5, 2, 3)

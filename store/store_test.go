@@ -263,12 +263,19 @@ func incarnation(n byte) []byte { return []byte{5, 0, 0, 0, 0, 0, 0, 0, n} }
 
 var seal = []byte{6}
 
+// openFiles opens a disk of these files, and once more what that has written.
 func openFiles(t *testing.T, a, b []byte) *store.Store {
 	t.Helper()
 	d := disk.New()
 	d.Append(0, a)
 	d.Append(1, b)
-	return open(t, d, 1000)
+	s := open(t, d, 1000)
+	torn := d.Copy()
+	torn.Crash([2]int{})
+	if again := open(t, torn, 1000); !slices.Equal(again.Blobs(), s.Blobs()) || !slices.Equal(again.Results(), s.Results()) {
+		t.Error("what Open makes does not last")
+	}
+	return s
 }
 
 // P12.1: what records make.
@@ -276,6 +283,14 @@ func TestRecords(t *testing.T) {
 	s := openFiles(t, file(head(3), blobOf("a"), blobOf("b"), blobOf("c"), seal, blobOf("a"), resultOf(result(1, "b")), resultOf(result(2, "c")), resultOf(result(3, "x")), resultOf(result(2, "a")), resultOf(result(2, "x")), incarnation(9), gone("b"), gone("z")), nil)
 	if !slices.Equal(s.Blobs(), names("c", "a")) || !slices.Equal(s.Results(), []api.Attest{result(2, "a")}) || s.Incarnation() != 10 || s.Used() != 2 {
 		t.Error(s.Blobs(), s.Results(), s.Incarnation())
+	}
+	greatest := string(make([]byte, 5000))
+	d := disk.New()
+	d.Append(1, file(head(3), seal, blobOf("a"), blobOf("b"), blobOf(greatest), blobOf("a")))
+	for range 3 {
+		if s := open(t, d, 6000); !slices.Equal(s.Blobs(), names("b", greatest, "a")) {
+			t.Error("opened again", len(s.Blobs()))
+		}
 	}
 	most := append([]byte{5}, bytes.Repeat([]byte{255}, 8)...)
 	if s := openFiles(t, file(head(3), most, seal), nil); s.Incarnation() != math.MaxUint64 {
@@ -424,6 +439,43 @@ func checkFull(t *testing.T, d *disk.Disk, s *store.Store, n int) {
 	s = open(t, d, 1000)
 	if !slices.Equal(s.Results(), results) || s.Incarnation() <= inc {
 		t.Error("behind Open", len(s.Results()), s.Incarnation())
+	}
+}
+
+// fill keeps as many results of the blob as there is room for, at most so many.
+func fill(s *store.Store, root api.Digest, first, most int) (n int) {
+	for n < most && s.Keep(api.Attest{Key: api.Digest{byte(first), byte(n), byte(n >> 8)}, Root: root, Length: 100}) == api.OK {
+		n++
+	}
+	return n
+}
+
+// P12.4: a result is refused only where there is no room for it, and what is answered OK lasts, however full the disk is.
+func TestNearlyFull(t *testing.T) {
+	d := disk.New()
+	s := open(t, d, 600)
+	for i := range 14 {
+		b := make([]byte, 100)
+		b[0] = byte(i)
+		root, e := s.Put(b)
+		if e != api.OK {
+			t.Fatal(i, e)
+		}
+		n := fill(s, root, i, 1600)
+		if torn := d.Copy(); i > 4 {
+			torn.Crash([2]int{api.MaxDisk, api.MaxDisk})
+			again := open(t, torn, 600)
+			if !slices.Equal(again.Blobs(), s.Blobs()) || !slices.Equal(again.Results(), s.Results()) {
+				t.Fatal("what was kept is lost", i)
+			}
+		}
+		if n == 1600 {
+			continue
+		}
+		s.Compact()
+		if room := api.MaxDisk - len(file(living(d)...)); room >= 2+105+8 {
+			t.Error("there was room", i, room)
+		}
 	}
 }
 
