@@ -534,7 +534,7 @@ func TestResults(t *testing.T) {
 			}
 		}
 		done(t, n, "a", b.Out)
-		if tells != slices.Equal(to, []int{0, 2}) || !tells && (len(to) > 0 || len(n.Known()) > 0) {
+		if tells != slices.Equal(to, []int{0, 2}) || !tells && len(to) > 0 {
 			t.Error("told to", to)
 		}
 	}

@@ -159,6 +159,30 @@ func TestPackets(t *testing.T) {
 	}
 }
 
+// P28.1: what a node is to send is on its way right behind an event at it.
+func TestOnItsWay(t *testing.T) {
+	s := make3(t, config(3), 7)
+	ping, _ := frames.Bytes(secret, api.Frame{Kind: 1, From: 1, To: 0, Probe: api.Probe{Kind: api.ProbePing, Seq: 3}})
+	do(t, s, api.OK, api.Event{Kind: api.EventInject, Node: 0, Bytes: ping})
+	l := s.Packets()
+	if len(l) != 1 || l[0].To != 1 {
+		t.Fatal(l)
+	}
+	if f, e := frames.Read(secret, l[0].Bytes); e != api.OK || f.Probe.Kind != api.ProbeAck || f.Probe.Seq != 3 {
+		t.Error(f, e)
+	}
+	do(t, s, api.OK, tick(1), crash(1))
+	if n := len(s.Packets()); n < 2 {
+		t.Error("what a node has sent stays on its way when it crashes", n)
+	}
+	do(t, s, api.OK, edit(0, one("x", "1"), copies), request(0, "a"))
+	n := len(s.Packets())
+	do(t, s, api.OK, tick(0))
+	if len(s.Packets()) <= n {
+		t.Error("a tick")
+	}
+}
+
 // P28.1: more packets than there may be: the first ones are lost.
 func TestFull(t *testing.T) {
 	c := config(16)
