@@ -147,7 +147,7 @@ func TestNone(t *testing.T) {
 		if m.Suspect(0) || m.Kill(0) || u != (api.Update{}) || ok || m.All() != nil || m.Alive() != nil || m.Self() != (api.Update{}) {
 			t.Error("answers")
 		}
-		if c := m.Copy(); c.All() != nil {
+		if m.Copy() != nil {
 			t.Error("Copy")
 		}
 	}
