@@ -352,6 +352,40 @@ func TestGossipEachTick(t *testing.T) {
 	}
 }
 
+// P27.3: in each tick probes are told first, then gossip, then wants, then what the request's step tells.
+func TestOrder(t *testing.T) {
+	c := config(3)
+	c.Every, c.Gossip, c.Window = 1, 1, 1
+	n := network(t, c).nodes[1]
+	key, b := keyOf(t, one("x", strings.Repeat("q", 900)), copies, "a")
+	out, _ := tree.Bytes(b.Out)
+	a, _ := attest.Make(secret, key, merkle.Root(out), len(out))
+	n.Deliver(frame(t, api.Frame{Kind: 4, From: 2, To: 1, Attest: a}))
+	begin(t, n, one("x", strings.Repeat("q", 900)), copies, "b")
+	ranks := map[uint8]int{api.FrameProbe: 1, api.FrameGossip: 2, api.FrameWant: 3, api.FrameClaim: 4, api.FrameResult: 4}
+	seen := map[uint8]int{}
+	for range 60 {
+		n.Tick()
+		last := 0
+		for _, f := range told(t, n) {
+			if ranks[f.Kind] < last {
+				t.Error("out of order", n.Now(), f.Kind)
+			}
+			last = ranks[f.Kind]
+			seen[f.Kind]++
+			if chunk, e := merkle.Chunk(out, f.Chunk); f.Kind == api.FrameWant && f.To == 2 && e == api.OK {
+				proof, _ := merkle.Proof(out, f.Chunk)
+				n.Deliver(frame(t, api.Frame{Kind: 6, From: 2, To: 1, Root: f.Root, Chunk: f.Chunk, Bytes: chunk, Proof: proof}))
+			}
+		}
+	}
+	for kind := api.FrameProbe; kind <= api.FrameWant; kind++ {
+		if seen[kind] == 0 {
+			t.Error("nothing of the kind", kind)
+		}
+	}
+}
+
 // P27.3: a fetch that is stuck has failed, long ahead of its budget.
 func TestStuck(t *testing.T) {
 	c := config(2)
